@@ -1,0 +1,1 @@
+"""Standfast: frames that stand whatever comes."""

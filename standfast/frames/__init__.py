@@ -1,0 +1,1 @@
+"""Frames and their texts."""

@@ -1,0 +1,1 @@
+"""Conditions on unknowns, and values that meet them."""

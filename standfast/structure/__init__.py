@@ -1,0 +1,1 @@
+"""Structures: what is calculated with."""
