@@ -81,6 +81,10 @@ class Edits(unittest.TestCase):
         self.check("group g\ncase heat n 1", changed(at12="case heat n 1", at13=""))
         self.check("group g\ncase heat n 1\ngroup g\ncase heat n 2", changed(at12="case heat n 2", at13=""))
 
+    def test_other_things_between_a_group_and_its_cases(self):
+        self.check("group g\njoint b 3 3\nmember n b a s\nwithout ask p\nwithout joint a\ncase",
+                   changed(at3="", at4="joint b 3 3", at7="member n b a s", at12="case", at13="", at20=""))
+
     def test_cases_go_to_the_group_given_last(self):
         self.check("group h\njoint b 3 3\ncase\ngroup i\ncase heat m 2\ncase\ngroup g\ncase at b 0 0",
                    changed(at4="joint b 3 3", at12="case at b 0 0", at13="", at15="case",
@@ -130,6 +134,7 @@ class Faults(unittest.TestCase):
         for line in ("case", "case at a 1 1", "case at", "case nothing", "case # at"):
             self.check(line, (1, 1, "group"))
             self.check("joint c 1 1\n  " + line, (2, 3, "group"))
+            self.check("joint a 1 1\nsection s stiff 1 1 pull 1 push 1\n  " + line, (3, 3, "group"))
             self.check("group h\nwithout group h\n " + line, (3, 2, "group"))
             self.check("group g\nwithout group g\n" + line, (3, 1, "group"))
             self.check("group i\ncase\nwithout group i\n" + line, (4, 1, "group"))

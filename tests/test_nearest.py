@@ -60,6 +60,27 @@ class Nearest(unittest.TestCase):
                     self.assertIs(type(values), tuple)
                     self.assertTrue(meets(values, conditions))
 
+    def test_unknowns_that_depend_on_one_another(self):
+        for rows, values in (
+            (((0, 2, 3, -6), (-1, 2, -2, -4), (0, 2, 0, -6), (-1, -1, -1, 4)), whole(0, -3, 0)),
+            (((1, 0, 3, -6), (2, 0, 3, -12), (3, -2, 1, -8), (2, 3, -1, -4), (1, 3, -1, 2)), whole(0, -12, -32)),
+        ):
+            conditions = [most(whole(*row[:-1]), ratio(row[-1])) for row in rows]
+            self.assertEqual(nearest(conditions, 3), values)
+            self.assertEqual(oracle.nearest(conditions, 3), values)
+
+    def test_many_that_are_met_by_few_values(self):
+        chance = random.Random(41)
+        for _ in range(1500):
+            unknowns = chance.randint(3, 4)
+            inside = [chance.randint(-3, 3) for _ in range(unknowns)]
+            conditions = []
+            for _ in range(chance.randint(unknowns, 2 * unknowns)):
+                row = [chance.choice((0, 0, 1, -1, 2, -2, 3)) for _ in range(unknowns)]
+                bound = sum(a * b for a, b in zip(row, inside)) + chance.choice((0, 0, 1, 3))
+                conditions.append(most(whole(*row), ratio(bound)))
+            self.assertEqual(nearest(conditions, unknowns), oracle.nearest(conditions, unknowns))
+
     def test_many_unknowns(self):
         chance = random.Random(3)
         for _ in range(5):
