@@ -4,6 +4,8 @@ from math import gcd
 
 ZERO = (0, 1)
 ONE = (1, 1)
+HALF = (1, 2)
+TWO = (2, 1)
 
 
 def ratio(n, d=1):
@@ -77,3 +79,18 @@ def total(items):
     for item in items:
         added = plus(added, item)
     return added
+
+
+def greatest_of(items):
+    """Return the greatest one of a list of ratios; 0 for an empty list."""
+    if not items:
+        return ZERO
+    found = items[0]
+    for item in items:
+        found = greater_one(found, item)
+    return found
+
+
+def with_sign(way, a):
+    """Return a multiplied by 1 or -1."""
+    return a if way > 0 else negative(a)

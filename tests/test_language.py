@@ -58,6 +58,54 @@ INTERFACE = {
     "structure.model": "Load Side Structure add_loads times_load",
     "structure.rows": "make_row row_at row_dot add_rows times_row",
 }
+WITH_ARGUMENTS = """
+frames.problems: problems(frame)
+structure.build: build(frame)
+structure.build: asked_rows(frame)
+structure.balance: forces_on(structure, forces)
+structure.balance: is_balanced(structure, forces, load)
+structure.balance: strains_by(structure, movements)
+elastic.pairs: is_idle(structure, place)
+elastic.pairs: pair_of(structure, load)
+elastic.pairs: loose_movements(structure)
+elastic.enclosing: own_strains(structure, pair, load)
+elastic.enclosing: apart(structure, pair, load)
+elastic.enclosing: reach(structure, component)
+elastic.enclosing: rise(structure, component, sign, pair, load)
+papers.losses: left(structure, lost, blow)
+papers.losses: left_bare(structure, lost)
+papers.losses: without(structure, lost, groups)
+papers.losses: loss_sets(losable, lose)
+papers.yielding: YieldPaper(base, pairs, margin)
+papers.yielding: pair_at(pairs, group, index)
+papers.yielding: filled(structure, pair)
+papers.yielding: yields_end(structure, paper)
+papers.yielding: start(structure, paper)
+papers.yielding: yield_of(structure, paper)
+papers.yielding: is_kept_away(structure, paper, side, amount)
+papers.walk: leap(structure, first, second)
+papers.walk: walk(structure, losable, lose, blow, papers)
+papers.movements: unit_load(row)
+papers.movements: bounds_of(structure, paper, unit, row, amount)
+papers.falls: is_choice(structure, choice)
+papers.falls: choice_load(structure, choice)
+papers.falls: work(load, movement)
+papers.falls: falls(structure, choice, movement, amounts)
+papers.turns: gain_and_lever(structure, yields, movement, pairs)
+papers.turns: turns(structure, yields, movement, pairs)
+papers.kinds: SetPaper(lost, paper, units)
+papers.kinds: Bounds(sets)
+papers.kinds: Borne(forces)
+papers.kinds: Turns(lost, yields, movement, pairs)
+papers.kinds: Falls(lost, choice, movement, amounts)
+papers.codes: write_paper(paper)
+papers.codes: read_paper(text)
+papers.ground: Site(frame)
+papers.ground: Site.sets(self)
+papers.ground: Site.behind(self, lost)
+papers.ground: Site.bare(self, lost)
+papers.ground: choices(structure)
+"""
 
 
 def nodes(kind):
@@ -183,6 +231,16 @@ class Modules(unittest.TestCase):
                 with self.subTest(f"{name}.{word}"):
                     self.assertEqual(getattr(module, word).__module__, module.__name__)
 
+    def test_the_interface_has_its_arguments(self):
+        for line in WITH_ARGUMENTS.strip().splitlines():
+            name, path, arguments = re.fullmatch(r"(.*): ([\w.]*)\((.*)\)", line).groups()
+            with self.subTest(line):
+                found = module = import_module("standfast." + name)
+                for word in path.split("."):
+                    found = vars(found)[word]
+                self.assertEqual(found.__module__, module.__name__)
+                self.assertEqual(list(inspect.signature(found).parameters), arguments.split(", "))
+
 
 class Code(unittest.TestCase):
     def test_kinds_of_nodes(self):
@@ -237,7 +295,10 @@ class Code(unittest.TestCase):
                 assigned.add(node.attr)
                 self.assertIsInstance(node.value, ast.Name, place)
                 self.assertNotIn(node.attr, BUILTIN_ATTRIBUTES, place)
-        self.assertEqual(assigned & OWN_METHODS, set())
+        for node in OWN_CLASSES.values():
+            own = {part.attr for part in ast.walk(node) if isinstance(part, ast.Attribute)
+                   and isinstance(part.ctx, ast.Store)}
+            self.assertEqual(own & {part.name for part in node.body if isinstance(part, ast.FunctionDef)}, set())
         self.assertEqual((OWN_METHODS - {"__init__"}) & BUILTIN_ATTRIBUTES, set())
         called = {id(node.func) for _, node in nodes(ast.Call)}
         for place, node in nodes(ast.Attribute):

@@ -4,7 +4,8 @@ from fractions import Fraction
 from math import gcd
 
 from standfast.ratios import (
-    at_most, greater_one, less, lesser_one, minus, negative, over, plus, ratio, sign, size, times, total,
+    at_most, greater_one, greatest_of, less, lesser_one, minus, negative, over, plus, ratio, sign, size, times, total,
+    with_sign,
 )
 
 
@@ -119,3 +120,14 @@ class Added(unittest.TestCase):
         items = [(1, 2), (1, 3)]
         total(items)
         self.assertEqual(items, [(1, 2), (1, 3)])
+
+
+class Chosen(unittest.TestCase):
+    def test_the_greatest_one(self):
+        self.assertEqual(greatest_of([]), (0, 1))
+        self.assertEqual(greatest_of([(-1, 2)]), (-1, 2))
+        self.assertEqual(greatest_of([(-1, 2), (-1, 3), (-2, 1)]), (-1, 3))
+        self.assertEqual(greatest_of([(1, 2), (3, 5), (4, 7)]), (3, 5))
+
+    def test_signs(self):
+        self.assertEqual([with_sign(1, (2, 3)), with_sign(-1, (2, 3)), with_sign(-1, (0, 1))], [(2, 3), (-2, 3), (0, 1)])

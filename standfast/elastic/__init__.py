@@ -1,0 +1,1 @@
+"""Elastic answers of structures, and what true ones can come to."""

@@ -1,0 +1,1 @@
+"""Papers about structures, and whether they hold."""

@@ -1,0 +1,85 @@
+"""Structures and papers for tests, some by chance."""
+
+from standfast.frames.problems import problems
+from standfast.frames.reading import read_frame
+from standfast.papers.yielding import YieldPaper
+from standfast.ratios import ratio
+from standfast.structure.build import build
+
+
+def structure(text):
+    """The structure of a frame, which has no problems."""
+    frame = read_frame(text)
+    assert problems(frame) == [], problems(frame)
+    return build(frame)
+
+
+def whole(*numbers):
+    return tuple(ratio(n) for n in numbers)
+
+
+def some_ratio(chance):
+    return ratio(chance.randint(-6, 6), chance.choice((1, 1, 2, 3, 10)))
+
+
+def some_range(chance):
+    first, second = sorted(chance.randint(-2, 2) for _ in range(2))
+    return f"{first}/8 {second}/8"
+
+
+def some_frame(chance):
+    """A frame without problems, by chance."""
+    lines = ["section s stiff 40 40 pull 3 push 4", some_section(chance)]
+    names = "abcd"[:chance.randint(2, 4)]
+    places = chance.sample([(x, y) for x in range(4) for y in range(4)], len(names))
+    for name, (x, y) in zip(names, places):
+        held = [chance.choice(("", f" {way}", f" {way} {some_range(chance)}")) for way in "xy"]
+        lines.append(f"joint {name} {x} {y}" + "".join(held))
+    members = "mnopq"[:chance.randint(1, 5)]
+    for name in members:
+        line = f"member {name} {' '.join(chance.sample(names, 2))} {chance.choice('stt')}"
+        lines.append(line + chance.choice(("", f" error {some_range(chance)}")) + chance.choice(("", " losable")))
+    lines.append(chance.choice(("gravity 0 -1", "gravity 1/2 3", "")))
+    lines.append("dead" + some_loads(chance, names, members))
+    for name in ("g", "h")[:chance.randint(0, 2)]:
+        lines.append(f"group {name}")
+        lines += ["case" + some_loads(chance, names, members) for _ in range(chance.randint(1, 3))]
+    losable = sum(line.endswith("losable") for line in lines)
+    lines.append(f"lose {chance.randint(0, min(2, losable))} blow {chance.choice(('1', '2', '5/2', '4'))}")
+    frame = read_frame("\n".join(lines))
+    assert problems(frame) == [], problems(frame)
+    return frame
+
+
+def some_section(chance):
+    soft, weak = chance.randint(10, 90), chance.randint(1, 6)
+    line = f"section t stiff {soft} {soft + chance.choice((0, 7, 30))} pull {chance.randint(0, 9)}"
+    line += f" push {chance.randint(1, 9)} factor {weak}/6 {weak + chance.choice((0, 1))}/6"
+    line += chance.choice(("", " breaks pull", " breaks push", " breaks both"))
+    return line + chance.choice(("", " weight 1/3", " weight 2"))
+
+
+def some_loads(chance, joints, members):
+    loads = [f" at {name} {chance.randint(-3, 3)} {chance.randint(-3, 3)}" for name in joints + joints]
+    loads += [f" heat {name} {chance.randint(-2, 2)}/9" for name in members + members]
+    return "".join(chance.sample(loads, chance.randint(0, 4)))
+
+
+def some_pair(chance, made):
+    """Forces and movements by chance, at times too few or too many."""
+    forces, movements = ([some_ratio(chance) for _ in range(max(0, many + chance.choice((-1, 0, 0, 1))))]
+                         for many in (len(made.rows), len(made.free)))
+    return (tuple(forces), tuple(movements))
+
+
+def some_pairs(chance, made):
+    """Pairs for the loads of all groups by chance, at times too few or too many."""
+    groups = []
+    for loads in made.groups:
+        groups.append([some_pair(chance, made) for _ in range(max(0, len(loads) + chance.choice((-1, 0, 0, 1))))])
+    return groups[:max(0, len(groups) - chance.choice((0, 0, 1)))]
+
+
+def some_paper(chance, made):
+    """A YieldPaper by chance."""
+    return YieldPaper(some_pair(chance, made), some_pairs(chance, made), ratio(chance.randint(1, 5), 4))
