@@ -56,6 +56,11 @@ class Apart(unittest.TestCase):
         self.assertEqual(apart(left_bare(TWO_BARS, [0]), (whole(0, 2), ((1, 4),)), NOTHING), (9, 1))
         self.assertEqual(apart(left_bare(TWO_BARS, [1]), (whole(1, 0), ((1, 4),)), NOTHING), (1, 2))
         self.assertEqual(apart(left_bare(TWO_BARS, [1, 0]), (whole(0, 0), ((1, 4),)), NOTHING), (0, 1))
+        self.assertEqual(apart(left_bare(TWO_BARS, [0]), (whole(9, 2), ((1, 4),)), NOTHING), (9, 1))
+
+    def test_forces_and_movements_that_are_missing(self):
+        self.assertEqual(apart(TWO_BARS, (whole(1), ((1, 4),)), NOTHING), (3, 2))
+        self.assertEqual(apart(TWO_BARS, ((), ()), Load((), ((1, (-1, 1)),))), (1, 1))
 
 
 class Reach(unittest.TestCase):

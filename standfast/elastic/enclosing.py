@@ -13,7 +13,7 @@ class Enclosure:
         forces, _ = pair
         self.structure = structure
         self.load = load
-        self.forces = forces
+        self.forces = padded_to(forces, len(structure.rows))
         self.own = own_strains(structure, pair, load)
         self.spread = total([self.spread_at(at) for at, is_there in enumerate(structure.there) if is_there])
 
@@ -31,6 +31,11 @@ class Enclosure:
         """Return the rise of a component and a sign."""
         root = root_above(times(self.spread, reach(self.structure, component)))
         return times(plus(self.middle_of(component, sign), root), HALF)
+
+
+def padded_to(values, many):
+    """Return the first values as a list, with 0 for those that are missing."""
+    return [values[at] if at < len(values) else ZERO for at in range(many)]
 
 
 def own_strains(structure, pair, load):

@@ -2,7 +2,7 @@
 
 from standfast.errors import InvalidPaper
 from standfast.papers.kinds import Borne, Bounds, Falls, SetPaper, Turns
-from standfast.papers.numbers import (
+from standfast.papers.listing import (
     Numbers, Unreadable, entries_ratios, indices_ratios, line_behind, lines_of, list_ratios, single, take_entries,
     take_indices, take_list, take_members, take_ratios,
 )

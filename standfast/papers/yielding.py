@@ -1,7 +1,7 @@
 """Papers that all yielding together ends."""
 
 from standfast.copies import as_tuples
-from standfast.elastic.enclosing import Enclosure, greatest_misfit, reach
+from standfast.elastic.enclosing import Enclosure, greatest_misfit, padded_to, reach
 from standfast.ratios import TWO, ZERO, at_most, greatest_of, less, minus, over, plus, times, total, with_sign
 from standfast.roots import root_above
 from standfast.structure.balance import is_balanced
@@ -29,11 +29,6 @@ def filled(structure, pair):
     padded = padded_to(forces, len(structure.rows))
     kept = [force if is_there else ZERO for force, is_there in zip(padded, structure.there)]
     return (tuple(kept), tuple(padded_to(movements, len(structure.free))))
-
-
-def padded_to(values, many):
-    """Return the first values as a list, with 0 for those that are missing."""
-    return [values[at] if at < len(values) else ZERO for at in range(many)]
 
 
 def yields_end(structure, paper):
