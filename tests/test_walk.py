@@ -11,6 +11,7 @@ from standfast.papers.ground import Site
 from standfast.papers.losses import left
 from standfast.papers.walk import leap, walk
 from standfast.papers.yielding import YieldPaper
+from standfast.ratios import ratio
 
 MILLION = 10 ** 6
 ONE = (1, 1)
@@ -196,6 +197,35 @@ class Lengths(unittest.TestCase):
         self.assertEqual(greatest, (10, 1))
         self.assertIsNone(self.found([4, 4, 4, 4, 3, 3, 1, 1, 0, 0, 0, 0]))
         self.assertIsNone(self.found([4] * 12))
+
+
+class ManyThatMayBeLost(unittest.TestCase):
+    """Bars of which nothing breaks."""
+
+    def found(self, many, lose):
+        lines = ["section s stiff 1 2 pull 5 push 4", "joint a 0 0 x y", "joint b 4 0 y", "dead at b 2 0"]
+        made = structure("\n".join(lines + [f"member m{k} a b s error -1/9 1/4" for k in range(many)]))
+        given = YieldPaper(([ratio(k - 3, 2) for k in range(many)], ()), [], (1, 3))
+        papers = {lost: given for lost in reference.loss_sets(range(many), lose)}
+        return walk(made, list(range(many)), lose, ONE, papers), reference.Model(made).start(given)
+
+    def test_too_many_sets(self):
+        self.assertIsNone(self.found(9, 3)[0])
+
+    def test_145_sets(self):
+        (sets, greatest), first = self.found(12, 2)
+        expected = [()]
+        for k in range(12):
+            expected += [(k,)] + [tuple(sorted((k, other))) for other in range(12) if other != k]
+        self.assertEqual(sets, expected)
+        self.assertEqual(len(sets), 145)
+        # All bases are the same, so that each leap is 0: three sets one behind another, each with 3/2 of the square.
+        self.assertEqual(greatest, pair(reference.above(first) ** 2 * 9 / 2))
+
+    def test_nothing_is_too_long_by_members_that_are_not_there(self):
+        made = bars("ttt")
+        papers = {(): paper(1, 1, 1), (2,): paper(1, 1, 5)}
+        self.assertEqual(walk(made, [2, 2, *range(7, 700)], 1, ONE, papers), ([(), (2,)], (0, 1)))
 
 
 class ByChance(unittest.TestCase):

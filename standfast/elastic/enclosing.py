@@ -1,41 +1,100 @@
 """What the elastic forces of a load can come to in any true structure."""
 
-from standfast.ratios import HALF, ONE, TWO, ZERO, greater_one, minus, over, plus, times, total, with_sign
-from standfast.roots import root_above
+from math import gcd
+
+from standfast.ratios import ONE, ZERO, greater_one, minus, over, ratio, times
+from standfast.roots import MILLION, millionths_above
 from standfast.structure.balance import strains_by
+from standfast.structure.grid import Grid, here
 from standfast.structure.rows import row_at
+from standfast.whole import over_common, reduced
 
 
 class Enclosure:
-    """A load with a pair for it: the pair's forces, its own strains, and apart."""
+    """What forces in balance with a load, and own strains, tell of true elastic answers.
 
-    def __init__(self, structure, pair, load):
-        forces, _ = pair
-        self.structure = structure
-        self.load = load
-        self.forces = padded_to(forces, len(structure.rows))
-        self.own = own_strains(structure, pair, load)
-        self.spread = total([self.spread_at(at) for at, is_there in enumerate(structure.there) if is_there])
+    Forces and own strains are integers, with 0 for components that are not there, and what to divide them by.
+    Apart is the spread divided by spread_by.
+    """
 
-    def spread_at(self, component):
-        """Return what a component that is there adds to apart."""
-        return greatest_misfit(self.structure.factors[component], self.forces[component], self.own[component])
+    def __init__(self, grid, present, forces, own):
+        self.grid = grid
+        self.present = present
+        self.forces, self.forces_by = forces
+        self.own, self.own_by = own
+        self.roots = {}
+        # Of the factors times forces minus own strains, this divides numbers that all have in common.
+        level = grid.fine * self.forces_by
+        shared = gcd(level, self.own_by)
+        mine = self.own_by // shared
+        its = level // shared
+        spread = 0
+        for at in present:
+            force = self.forces[at] * mine
+            strain = self.own[at] * its
+            low = grid.lows[at] * force - strain
+            high = grid.highs[at] * force - strain
+            spread += max(low * low * grid.low_shares[at], high * high * grid.high_shares[at])
+        self.spread = spread
+        self.spread_by = grid.whole * grid.fine * (self.forces_by * mine) ** 2
 
-    def middle_of(self, component, sign):
-        """Return the middle of a side."""
-        lower, upper = self.structure.factors[component]
-        own = with_sign(sign, self.own[component])
-        return plus(with_sign(sign, self.forces[component]), greater_one(over(own, lower), over(own, upper)))
+    def root_at(self, component):
+        """Return in millionths the root from above of apart multiplied by the reach of a component."""
+        if component not in self.roots:
+            grid = self.grid
+            self.roots[component] = millionths_above(self.spread * grid.fine, self.spread_by * grid.lows[component])
+        return self.roots[component]
 
     def rise_of(self, component, sign):
-        """Return the rise of a component and a sign."""
-        root = root_above(times(self.spread, reach(self.structure, component)))
-        return times(plus(self.middle_of(component, sign), root), HALF)
+        """Return the rise of a component and a sign: a numerator, and a denominator above 0."""
+        own = sign * self.own[component] * self.grid.fine
+        bound = self.grid.lows[component] if own > 0 else self.grid.highs[component]
+        by = self.own_by * bound
+        middle = sign * self.forces[component] * by + own * self.forces_by
+        by = by * self.forces_by
+        return (middle * MILLION + self.root_at(component) * by, 2 * MILLION * by)
+
+    def bears(self, force):
+        """Return True if the forces are in balance with a row of forces."""
+        added = {}
+        for at in self.present:
+            mine = self.forces[at]
+            if mine != 0:
+                for place, number in self.grid.rows[at]:
+                    added[place] = added.get(place, 0) + number * mine
+        level = self.grid.grain * self.forces_by
+        for place, (n, d) in force:
+            if added.pop(place, 0) * d != n * level:
+                return False
+        return not any(list(added.values()))
 
 
-def padded_to(values, many):
-    """Return the first values as a list, with 0 for those that are missing."""
-    return [values[at] if at < len(values) else ZERO for at in range(many)]
+def enclosure_of(grid, structure, pair, load):
+    """Return the Enclosure of a load and a pair for it."""
+    present = here(structure)
+    forces, by = over_common(pair[0])
+    padded = [0] * len(structure.rows)
+    for at in present:
+        if at < len(forces):
+            padded[at] = forces[at]
+    return Enclosure(grid, present, (padded, by), own_in_whole(grid, present, pair[1], load.strain))
+
+
+def own_in_whole(grid, present, movements, outside):
+    """Return own strains as integers and what to divide them by."""
+    moved, by = over_common(movements)
+    strains = [0] * len(grid.rows)
+    for at in present:
+        strains[at] = sum([number * moved[place] for place, number in grid.rows[at] if place < len(moved)])
+    by *= grid.grain
+    if outside:
+        given, given_by = over_common([amount for _, amount in outside])
+        strains = [strain * given_by for strain in strains]
+        for (at, _), amount in zip(outside, given):
+            if at in present:
+                strains[at] -= amount * by
+        by *= given_by
+    return reduced(strains, by)
 
 
 def own_strains(structure, pair, load):
@@ -49,7 +108,8 @@ def own_strains(structure, pair, load):
 
 def apart(structure, pair, load):
     """Return apart of a pair for a load."""
-    return Enclosure(structure, pair, load).spread
+    answer = enclosure_of(Grid(structure), structure, pair, load)
+    return ratio(answer.spread, answer.spread_by)
 
 
 def reach(structure, component):
@@ -60,7 +120,8 @@ def reach(structure, component):
 
 def rise(structure, component, sign, pair, load):
     """Return the rise of a component and a sign by a pair for a load."""
-    return Enclosure(structure, pair, load).rise_of(component, sign)
+    n, d = enclosure_of(Grid(structure), structure, pair, load).rise_of(component, sign)
+    return ratio(n, d)
 
 
 def greatest_misfit(bounds, force, own):
@@ -71,5 +132,5 @@ def greatest_misfit(bounds, force, own):
 
 def misfit(factor, force, own):
     """Return factor s s - 2 s e + e e / factor, for the force s and the own strain e."""
-    crossed = times(TWO, times(force, own))
-    return plus(minus(times(factor, times(force, force)), crossed), over(times(own, own), factor))
+    lack = minus(times(factor, force), own)
+    return over(times(lack, lack), factor)

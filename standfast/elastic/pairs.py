@@ -1,36 +1,32 @@
 """The answer of a structure to a load if all factors are their middles and nothing has yielded."""
 
-from standfast.linear.equations import loose_values, solve
-from standfast.ratios import HALF, ONE, ZERO, minus, over, plus, times
-from standfast.structure.balance import strains_by
-from standfast.structure.model import Load
+from standfast.elastic.answers import Elastic, middle_factors
+from standfast.linear.equations import loose_values
+from standfast.ratios import HALF, ONE, ZERO, over, plus, times
+from standfast.structure.grid import Grid, idle_places
 from standfast.structure.rows import add_rows, row_at, times_row
 
 
 def is_idle(structure, place):
     """Return True if a component that is not there has a number at a free movement, and none that is there has one."""
-    touching = [at for at, row in enumerate(structure.rows) if row_at(row, place) != ZERO]
-    return len(touching) > 0 and not any([structure.there[at] for at in touching])
+    return place in idle_places(structure)
+
+
+def middle_elastic(grid, structure):
+    """Return the Elastic of a structure with middle factors."""
+    return Elastic(grid, structure, middle_factors(grid))
 
 
 def pair_of(structure, load):
     """Return the pair of a load, or None if there is none."""
-    if any([is_idle(structure, place) for place, _ in load.force]):
-        return None
-    movements = solve(balance_equations(structure, load))
-    if movements is None:
-        return None
-    strains = strains_by(structure, movements)
-    forces = []
-    for at, is_there in enumerate(structure.there):
-        own = minus(strains[at], row_at(load.strain, at))
-        forces.append(over(own, middle_factor(structure, at)) if is_there else ZERO)
-    return (tuple(forces), movements)
+    answer = middle_elastic(Grid(structure), structure).answer(load)
+    return None if answer is None else answer.pair()
 
 
 def loose_movements(structure):
     """Return the loose movements, or None if the structure is not loose."""
-    return loose_values(balance_equations(structure, Load((), ())))
+    idle = idle_places(structure)
+    return loose_values([stiffness_equation(structure, idle, place) for place in range(len(structure.free))])
 
 
 def middle_factor(structure, component):
@@ -39,24 +35,16 @@ def middle_factor(structure, component):
     return times(plus(lower, upper), HALF)
 
 
-def balance_equations(structure, load):
-    """Return the equations for the movements of a load's pair, one for each free movement."""
-    return [balance_equation(structure, load, place) for place in range(len(structure.free))]
-
-
-def balance_equation(structure, load, place):
-    """Return the equation of the balance at a free movement, or that it is 0 if it is idle."""
-    if is_idle(structure, place):
+def stiffness_equation(structure, idle, place):
+    """Return the equation for no load of the balance at a free movement, or that it is 0 if it is idle."""
+    if place in idle:
         return (numbers_of(structure, ((place, ONE),)), ZERO)
     rows = []
-    amount = row_at(load.force, place)
     for at, row in enumerate(structure.rows):
         mine = row_at(row, place)
         if structure.there[at] and mine != ZERO:
-            weight = over(mine, middle_factor(structure, at))
-            rows.append(times_row(row, weight))
-            amount = plus(amount, times(weight, row_at(load.strain, at)))
-    return (numbers_of(structure, add_rows(rows)), amount)
+            rows.append(times_row(row, over(mine, middle_factor(structure, at))))
+    return (numbers_of(structure, add_rows(rows)), ZERO)
 
 
 def numbers_of(structure, row):

@@ -1,7 +1,7 @@
 """What is left of a structure after the loss of some members."""
 
-from standfast.elastic.pairs import is_idle
 from standfast.ratios import ONE, greater_one, minus, negative, times
+from standfast.structure.grid import idle_places
 from standfast.structure.model import Load, Structure, times_load
 from standfast.structure.rows import make_row
 
@@ -10,7 +10,8 @@ def left(structure, lost, blow):
     """Return the Structure that is left, with a blow for each lost component."""
     bare = without(structure, lost, [])
     strike = greater_one(ONE, minus(blow, ONE))
-    return without(structure, lost, [blow_loads(bare, component, strike) for component in sorted(lost)])
+    idle = idle_places(bare)
+    return without(structure, lost, [blow_loads(bare, component, strike, idle) for component in sorted(lost)])
 
 
 def left_bare(structure, lost):
@@ -33,10 +34,10 @@ def without(structure, lost, groups):
     )
 
 
-def blow_loads(bare, component, strike):
-    """Return both loads of the blow of a lost component, by what is left without it."""
+def blow_loads(bare, component, strike, idle):
+    """Return both loads of the blow of a lost component, by what is left without it and its idle movements."""
     amount = times(strike, bare.scale[component])
-    forces = {place: times(number, amount) for place, number in bare.rows[component] if not is_idle(bare, place)}
+    forces = {place: times(number, amount) for place, number in bare.rows[component] if place not in idle}
     first = Load(make_row(forces), ())
     return [first, times_load(first, negative(ONE))]
 

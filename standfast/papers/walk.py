@@ -1,96 +1,144 @@
 """The walk through sets of lost members."""
 
+from standfast.elastic.enclosing import enclosure_of
 from standfast.papers.losses import left
-from standfast.papers.yielding import filled, heights, start, stays_below
-from standfast.ratios import TWO, ZERO, greater_one, minus, over, plus, times, total
-from standfast.roots import root_above
+from standfast.papers.yielding import Review, start_of
+from standfast.ratios import ZERO, greater_one, plus, ratio
+from standfast.roots import MILLION, millionths_above
+from standfast.structure.grid import Grid
+from standfast.whole import over_common
 
 MOST_SETS = 300
 
 
 class Stop:
-    """A set of lost members: what is left, its paper, and the sides that break with what they come to."""
+    """A set of lost members: its base's forces as integers and their divisor, its margin, and the sides that break.
 
-    def __init__(self, structure, paper):
-        breaking = [side for side in structure.sides if side.breaks]
-        self.structure = structure
-        self.paper = paper
-        self.breaking = list(zip(breaking, heights(structure, paper, breaking)))
+    These stand beside the Review of the paper, which is None if there are none.
+    """
+
+    def __init__(self, paper, breaking, review):
+        self.forces, self.by = over_common(paper.base[0])
+        self.margin = paper.margin
+        self.breaking = breaking
+        self.review = review
+
+    def force_at(self, at):
+        """Return the force of a component as an integer, 0 if it is missing."""
+        return self.forces[at] if at < len(self.forces) else 0
 
     def weak_at(self, distance):
-        """Return the members that are not kept away from breaking at a distance."""
-        square = times(distance, distance)
-        return [side.component for side, height in self.breaking
-                if not stays_below(self.structure, side, height, square)]
+        """Return the members that are not kept away from breaking at a distance in millionths."""
+        square = distance * distance
+        return [side.component for side in self.breaking
+                if not self.review.keeps_away(side, square, MILLION * MILLION)]
 
 
-class Way:
-    """The sets that have come up on a walk, and the Stops that are known."""
+class Stops:
+    """The Stops of given papers, as far as they are known."""
 
-    def __init__(self, structure, losable, blow, papers):
+    def __init__(self, grid, structure, blow, papers):
+        self.grid = grid
         self.structure = structure
-        self.losable = tuple(losable)
         self.blow = blow
         self.papers = papers
-        self.stops = {}
-        self.passed = []
+        self.known = {}
+        self.breaks = any([side.breaks for side in structure.sides])
 
     def stop_at(self, lost):
         """Return the Stop of a set, or None if it has no paper."""
+        if lost in self.known:
+            return self.known[lost]
         if lost not in self.papers:
             return None
-        if lost not in self.stops:
-            self.stops[lost] = Stop(left(self.structure, list(lost), self.blow), self.papers[lost])
-        return self.stops[lost]
+        self.known[lost] = self.new_stop(lost, self.papers[lost])
+        return self.known[lost]
+
+    def new_stop(self, lost, paper):
+        """Return the Stop of a set and its paper."""
+        if not self.breaks:
+            return Stop(paper, [], None)
+        behind = left(self.structure, list(lost), self.blow)
+        breaking = [side for side in behind.sides if side.breaks]
+        return Stop(paper, breaking, Review(self.grid, behind, paper) if breaking else None)
+
+
+class Way:
+    """The sets that have come up on a walk over Stops."""
+
+    def __init__(self, grid, structure, losable, stops):
+        self.grid = grid
+        self.present = [at for at, is_there in enumerate(structure.there) if is_there]
+        self.members = list(range(len(structure.rows)))
+        self.losable = {member: True for member in losable}
+        self.stops = stops
+        self.passed = []
 
     def next_members(self, lost, more, weak):
         """Return the members that may be lost next, in order."""
         found = []
-        for member in range(len(self.structure.rows)):
-            may_be_lost = member in weak or (more > 0 and member in self.losable)
-            if may_be_lost and member not in lost:
+        for member in self.members:
+            if member not in lost and (member in weak or (more > 0 and member in self.losable)):
                 found.append(member)
         return found
 
+    def is_surely_too_long(self, lose):
+        """Return True if there are too many sets even without weak members, which make them more."""
+        several = 1
+        sets = 1
+        for further in range(lose):
+            several *= len([member for member in self.members if member in self.losable]) - further
+            sets += several
+            if several == 0 or sets > MOST_SETS:
+                break
+        return sets > MOST_SETS
+
+    def leap(self, lost, here, there):
+        """Return in millionths the leap between two Stops to what is left after a set is lost."""
+        added = 0
+        for at in self.present:
+            if at not in lost:
+                change = there.force_at(at) * here.by - here.force_at(at) * there.by
+                if change != 0:
+                    added += self.grid.highs[at] * change * change
+        return millionths_above(added, self.grid.fine * (here.by * there.by) ** 2)
+
     def greatest_sum(self, lost, distance, more, weak):
-        """Return the greatest sum at a set that has a paper, or None if the walk cannot go on."""
+        """Return the greatest sum at a set that has a Stop, or None if the walk cannot go on."""
         self.passed.append(lost)
         if len(self.passed) > MOST_SETS:
             return None
-        here = self.stop_at(lost)
-        weak_now = [*weak, *here.weak_at(distance)]
-        members = self.next_members(lost, more, weak_now)
+        stop = self.stops.stop_at(lost)
+        weak_now = [*weak, *stop.weak_at(distance)]
         greatest = ZERO
-        for member in members:
+        for member in self.next_members(lost, more, weak_now):
             further = tuple(sorted([*lost, member]))
-            there = self.stop_at(further)
+            there = self.stops.stop_at(further)
             if there is None:
                 return None
-            farther = plus(distance, leap(there.structure, here.paper, there.paper))
+            farther = distance + self.leap(further, stop, there)
             found = self.greatest_sum(further, farther, more if member in weak_now else more - 1, weak_now)
             if found is None:
                 return None
             greatest = greater_one(greatest, found)
-        return plus(over(times(distance, distance), times(TWO, here.paper.margin)), greatest)
+        n, d = stop.margin
+        return plus(ratio(distance * distance * d, 2 * MILLION * MILLION * n), greatest)
 
 
 def leap(structure, first, second):
     """Return the leap to what is left after one further loss, by a yield paper of each."""
-    before, _ = filled(structure, first.base)
-    behind, _ = filled(structure, second.base)
-    squares = []
-    for at, is_there in enumerate(structure.there):
-        if is_there:
-            change = minus(behind[at], before[at])
-            squares.append(times(structure.factors[at][1], times(change, change)))
-    return root_above(total(squares))
+    grid = Grid(structure)
+    way = Way(grid, structure, [], None)
+    return ratio(way.leap((), Stop(first, [], None), Stop(second, [], None)), MILLION)
 
 
 def walk(structure, losable, lose, blow, papers):
     """Return the sets that come up and the greatest sum at the first set, or None."""
-    way = Way(structure, losable, blow, papers)
-    if way.stop_at(()) is None:
+    grid = Grid(structure)
+    way = Way(grid, structure, losable, Stops(grid, structure, blow, papers))
+    if () not in papers or way.is_surely_too_long(lose):
         return None
-    distance = root_above(start(structure, papers[()]))
-    greatest = way.greatest_sum((), distance, lose, [])
+    base = enclosure_of(grid, structure, papers[()].base, structure.base)
+    n, d = start_of(structure, base)
+    greatest = way.greatest_sum((), millionths_above(n, d), lose, [])
     return None if greatest is None else (way.passed, greatest)

@@ -1,10 +1,10 @@
 """Papers that all yielding together ends."""
 
 from standfast.copies import as_tuples
-from standfast.elastic.enclosing import Enclosure, greatest_misfit, padded_to, reach
-from standfast.ratios import TWO, ZERO, at_most, greatest_of, less, minus, over, plus, times, total, with_sign
-from standfast.roots import root_above
-from standfast.structure.balance import is_balanced
+from standfast.elastic.enclosing import enclosure_of, greatest_misfit
+from standfast.ratios import TWO, ZERO, at_most, greater_one, greatest_of, less, minus, over, ratio, times, total
+from standfast.roots import MILLION, millionths_above
+from standfast.structure.grid import Grid
 
 
 class YieldPaper:
@@ -14,6 +14,86 @@ class YieldPaper:
         self.base = as_tuples(base)
         self.pairs = as_tuples(pairs)
         self.margin = as_tuples(margin)
+
+
+class Answers:
+    """The Enclosures of the loads of all groups, by the pairs for them."""
+
+    def __init__(self, grid, structure, pairs):
+        self.grid = grid
+        self.structure = structure
+        self.pairs = pairs
+        self.known = {}
+
+    def answer(self, group, index):
+        """Return the Enclosure of a load and its pair."""
+        if (group, index) not in self.known:
+            load = self.structure.groups[group][index]
+            pair = pair_at(self.pairs, group, index)
+            self.known[(group, index)] = enclosure_of(self.grid, self.structure, pair, load)
+        return self.known[(group, index)]
+
+    def is_balanced(self, group, index):
+        """Return True if the forces of a load's pair are in balance with it."""
+        return self.answer(group, index).bears(self.structure.groups[group][index].force)
+
+    def of_group(self, group):
+        """Return the Enclosures of all loads of a group."""
+        return [self.answer(group, index) for index in range(len(self.structure.groups[group]))]
+
+
+class Review:
+    """A YieldPaper of a structure with the Enclosures of all its loads."""
+
+    def __init__(self, grid, structure, paper):
+        self.structure = structure
+        self.paper = paper
+        self.base = enclosure_of(grid, structure, paper.base, structure.base)
+        self.answers = Answers(grid, structure, paper.pairs)
+        self.groups = [self.answers.of_group(group) for group in range(len(structure.groups))]
+
+    def height(self, side):
+        """Return what the base and the greatest rises come to at a side: a numerator, and a denominator above 0."""
+        rises = rises_of(self.groups, side.component, side.sign)
+        return added_to(rises, side.sign * self.base.forces[side.component], self.base.forces_by)
+
+    def is_balanced(self):
+        """Return True if the forces of the base and of each pair are in balance with their loads."""
+        if not self.base.bears(self.structure.base.force):
+            return False
+        for group, loads in enumerate(self.structure.groups):
+            if not all([self.answers.is_balanced(group, index) for index in range(len(loads))]):
+                return False
+        return True
+
+    def holds(self):
+        """Return True if the paper holds."""
+        margin = self.paper.margin
+        if at_most(margin, ZERO) or not self.is_balanced():
+            return False
+        for side in self.structure.sides:
+            spare = minus(side.sure, times(margin, self.structure.scale[side.component]))
+            if less(spare, self.height(side)):
+                return False
+        return True
+
+    def keeps_away(self, side, n, d):
+        """Return True if a side is kept away from with the ratio n / d."""
+        low, low_by = self.structure.factors[side.component][0]
+        further = (millionths_above(n * low_by, d * low), MILLION)
+        return at_most(further, minus(side.sure, self.height(side)))
+
+
+def rises_of(groups, component, way):
+    """Return the greatest rise of each group of Enclosures at a component with a sign."""
+    return [greatest_of([answer.rise_of(component, way) for answer in group]) for group in groups]
+
+
+def added_to(items, n, d):
+    """Return the sum of n / d and other numbers, not in lowest terms."""
+    for a, b in items:
+        n, d = n * b + a * d, d * b
+    return n, d
 
 
 def pair_at(pairs, group, index):
@@ -31,70 +111,32 @@ def filled(structure, pair):
     return (tuple(kept), tuple(padded_to(movements, len(structure.free))))
 
 
+def padded_to(values, many):
+    """Return the first values as a list, with 0 for those that are missing."""
+    return [values[at] if at < len(values) else ZERO for at in range(many)]
+
+
 def yields_end(structure, paper):
     """Return True if the paper holds."""
-    if at_most(paper.margin, ZERO) or not is_all_balanced(structure, paper):
-        return False
-    for side, height in zip(structure.sides, heights(structure, paper, structure.sides)):
-        spare = times(paper.margin, structure.scale[side.component])
-        if less(side.sure, plus(height, spare)):
-            return False
-    return True
-
-
-def is_all_balanced(structure, paper):
-    """Return True if the forces of the base and of each pair are in balance with their loads."""
-    if not is_pair_balanced(structure, paper.base, structure.base):
-        return False
-    for group, loads in enumerate(structure.groups):
-        for index, load in enumerate(loads):
-            if not is_pair_balanced(structure, pair_at(paper.pairs, group, index), load):
-                return False
-    return True
-
-
-def is_pair_balanced(structure, pair, load):
-    """Return True if the forces of a pair, filled, are in balance with a load."""
-    forces, _ = filled(structure, pair)
-    return is_balanced(structure, forces, load)
-
-
-def enclosures(structure, pairs):
-    """Return an Enclosure for each load of each group, lists by groups."""
-    found = []
-    for group, loads in enumerate(structure.groups):
-        found.append([enclosure_at(structure, pairs, group, index) for index in range(len(loads))])
-    return found
-
-
-def enclosure_at(structure, pairs, group, index):
-    """Return the Enclosure of a load and its pair."""
-    pair = filled(structure, pair_at(pairs, group, index))
-    return Enclosure(structure, pair, structure.groups[group][index])
-
-
-def heights(structure, paper, sides):
-    """Return for each of some sides what the base and the greatest rise of each group come to."""
-    base, _ = filled(structure, paper.base)
-    groups = enclosures(structure, paper.pairs)
-    found = []
-    for side in sides:
-        rises = []
-        for group in groups:
-            rises.append(greatest_of([answer.rise_of(side.component, side.sign) for answer in group]))
-        found.append(plus(with_sign(side.sign, base[side.component]), total(rises)))
-    return found
+    return Review(Grid(structure), structure, paper).holds()
 
 
 def start(structure, paper):
     """Return the start of a paper."""
-    base = Enclosure(structure, filled(structure, paper.base), structure.base)
+    return start_of(structure, enclosure_of(Grid(structure), structure, paper.base, structure.base))
+
+
+def start_of(structure, base):
+    """Return the start of a paper, by the Enclosure of its base."""
     found = []
-    for at, is_there in enumerate(structure.there):
-        if is_there:
-            owns = [minus(base.own[at], error) for error in structure.errors[at]]
-            misfits = [greatest_misfit(structure.factors[at], base.forces[at], own) for own in owns]
-            found.append(greatest_of(misfits))
+    for at in base.present:
+        force = ratio(base.forces[at], base.forces_by)
+        own = ratio(base.own[at], base.own_by)
+        lower, upper = structure.errors[at]
+        misfit = greatest_misfit(structure.factors[at], force, minus(own, lower))
+        if upper != lower:
+            misfit = greater_one(misfit, greatest_misfit(structure.factors[at], force, minus(own, upper)))
+        found.append(misfit)
     return total(found)
 
 
@@ -105,10 +147,5 @@ def yield_of(structure, paper):
 
 def is_kept_away(structure, paper, side, amount):
     """Return True if a side that breaks is kept away from with a ratio."""
-    return stays_below(structure, side, heights(structure, paper, [side])[0], amount)
-
-
-def stays_below(structure, side, height, amount):
-    """Return True if what a side comes to, with the root of a ratio times its reach, is borne for sure."""
-    further = root_above(times(amount, reach(structure, side.component)))
-    return at_most(plus(height, further), side.sure)
+    n, d = amount
+    return Review(Grid(structure), structure, paper).keeps_away(side, n, d)
