@@ -1,5 +1,7 @@
 """Structures and papers for tests, some by chance."""
 
+import random
+
 from standfast.frames.problems import problems
 from standfast.frames.reading import read_frame
 from standfast.papers.yielding import YieldPaper
@@ -83,3 +85,40 @@ def some_pairs(chance, made):
 def some_paper(chance, made):
     """A YieldPaper by chance."""
     return YieldPaper(some_pair(chance, made), some_pairs(chance, made), ratio(chance.randint(1, 5), 4))
+
+
+def some_truss(chance):
+    """A frame without problems by chance: a free joint or two, held by bars to joints that are held."""
+    lines = ["section s stiff 80 100 pull 20 push 17 factor 9/10 1", "section w stiff 9 10 pull 1/2 push 1/3",
+             f"section t stiff 40 {chance.choice((40, 60))} pull {chance.randint(2, 9)} push {chance.randint(2, 9)} "
+             f"factor 1 {chance.choice(('1', '11/10'))}" + chance.choice(("", "", " breaks push", " breaks pull"))]
+    lines += ["joint a 0 0 x y", "joint b 4 0 x y", "joint c 0 3 x y" + chance.choice(("", " -1/400 1/400")),
+              "joint d 3 3", "joint e 1 5" + chance.choice((" x y", " x y", ""))]
+    ends = chance.sample(["a d", "d b", "c d", "e d", "b c"], chance.randint(2, 5))
+    if lines[-1].endswith("5"):
+        ends = chance.sample(["a d", "d b", "c d"], 2) + ["a e", "c e", "e d"][:chance.randint(2, 3)]
+    # Weak bars beside others: what is left behind their loss can bear the blow.
+    weak = [chance.choice(ends) for _ in range(chance.randint(0, 2))]
+    names = [f"m{k}" for k in range(len(ends + weak))]
+    for name, both in zip(names, ends + weak):
+        section = "w" if int(name[1:]) >= len(ends) else chance.choice("ssst")
+        line = f"member {name} {both} {section}" + chance.choice(("", " error -1/900 1/800"))
+        lines.append(line + (" losable" if section == "w" or chance.random() < 0.1 else ""))
+    lines.append("dead" + chance.choice(("", " at d 1 -1", " at d 0 -2", " at e 1 0")))
+    for group in ("g", "h")[:chance.randint(0, 2)]:
+        lines.append(f"group {group}")
+        for _ in range(chance.randint(1, 2)):
+            lines.append("case" + chance.choice((" at d 1 0", " at d -1/2 1", " at e 0 1", f" heat {names[0]} 1/300", "",
+                                                 f" at d 0 -{chance.randint(1, 6)}")))
+    losable = sum(line.endswith("losable") for line in lines)
+    lines.append(f"lose {chance.randint(0, min(2, losable))} blow {chance.choice(('1', '2', '5/2'))}")
+    lines += ["ask p d 1 0", "ask q d 1/2 -1"][:chance.randint(0, 2)]
+    frame = read_frame("\n".join(lines))
+    assert problems(frame) == [], problems(frame)
+    return frame
+
+
+def some_frames(seed, many):
+    """Frames by chance: loose ones at times, and trusses."""
+    chance = random.Random(seed)
+    return [chance.choice((some_frame, some_truss, some_truss))(chance) for _ in range(many)]

@@ -1,7 +1,7 @@
 """Bounds of asked movements."""
 
 from standfast.elastic.enclosing import enclosure_of
-from standfast.papers.yielding import Review
+from standfast.papers.yielding import review_of
 from standfast.ratios import greater_one, greatest_of, negative, over, plus, ratio, times, total
 from standfast.roots import MILLION, millionths_above
 from standfast.structure.grid import Grid
@@ -81,4 +81,4 @@ def bounds_of(structure, paper, unit, row, amount):
     """Return the pair of the least and the most of an asked movement, if all that yields is at most an amount."""
     grid = Grid(structure)
     answer = enclosure_of(grid, structure, unit, unit_load(row))
-    return Unit(structure, answer).bounds(Review(grid, structure, paper), amount)
+    return Unit(structure, answer).bounds(review_of(grid, structure, paper), amount)

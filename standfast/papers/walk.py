@@ -2,8 +2,8 @@
 
 from standfast.elastic.enclosing import enclosure_of
 from standfast.papers.losses import left
-from standfast.papers.yielding import Review, start_of
-from standfast.ratios import ZERO, greater_one, plus, ratio
+from standfast.papers.yielding import review_of, start_of
+from standfast.ratios import ONE, ZERO, greater_one, plus, ratio
 from standfast.roots import MILLION, millionths_above
 from standfast.structure.grid import Grid
 from standfast.whole import over_common
@@ -14,14 +14,14 @@ MOST_SETS = 300
 class Stop:
     """A set of lost members: its base's forces as integers and their divisor, its margin, and the sides that break.
 
-    These stand beside the Review of the paper, which is None if there are none.
+    These follow from the Review of the paper; it may be None if nothing breaks.
     """
 
-    def __init__(self, paper, breaking, review):
+    def __init__(self, paper, review):
         self.forces, self.by = over_common(paper.base[0])
         self.margin = paper.margin
-        self.breaking = breaking
         self.review = review
+        self.breaking = [] if review is None else [side for side in review.structure.sides if side.breaks]
 
     def force_at(self, at):
         """Return the force of a component as an integer, 0 if it is missing."""
@@ -35,39 +35,44 @@ class Stop:
 
 
 class Stops:
-    """The Stops of given papers, as far as they are known."""
+    """The Stops of given papers, a dict by sets, with what is left and the Reviews as far as they are known."""
 
-    def __init__(self, grid, structure, blow, papers):
-        self.grid = grid
+    def __init__(self, structure, blow, papers):
+        self.grid = Grid(structure)
         self.structure = structure
         self.blow = blow
         self.papers = papers
-        self.known = {}
+        self.stops = {}
+        self.reviews = {}
         self.breaks = any([side.breaks for side in structure.sides])
 
     def stop_at(self, lost):
         """Return the Stop of a set, or None if it has no paper."""
-        if lost in self.known:
-            return self.known[lost]
         if lost not in self.papers:
             return None
-        self.known[lost] = self.new_stop(lost, self.papers[lost])
-        return self.known[lost]
+        if lost not in self.stops:
+            review = self.review_at(lost) if self.breaks else None
+            self.stops[lost] = Stop(self.papers[lost], review)
+        return self.stops[lost]
 
-    def new_stop(self, lost, paper):
-        """Return the Stop of a set and its paper."""
-        if not self.breaks:
-            return Stop(paper, [], None)
-        behind = left(self.structure, list(lost), self.blow)
-        breaking = [side for side in behind.sides if side.breaks]
-        return Stop(paper, breaking, Review(self.grid, behind, paper) if breaking else None)
+    def review_at(self, lost):
+        """Return the Review of the paper of a set."""
+        if lost not in self.reviews:
+            behind = left(self.structure, list(lost), self.blow)
+            self.reviews[lost] = review_of(self.grid, behind, self.papers[lost])
+        return self.reviews[lost]
+
+    def first_distance(self):
+        """Return in millionths the root from above of the start of the first paper."""
+        base = enclosure_of(self.grid, self.structure, self.papers[()].base, self.structure.base)
+        return root_of_start(self.structure, base)
 
 
 class Way:
     """The sets that have come up on a walk over Stops."""
 
-    def __init__(self, grid, structure, losable, stops):
-        self.grid = grid
+    def __init__(self, structure, losable, stops):
+        self.grid = stops.grid
         self.present = [at for at, is_there in enumerate(structure.there) if is_there]
         self.members = list(range(len(structure.rows)))
         self.losable = {member: True for member in losable}
@@ -124,21 +129,26 @@ class Way:
         n, d = stop.margin
         return plus(ratio(distance * distance * d, 2 * MILLION * MILLION * n), greatest)
 
+    def walked(self, lose):
+        """Return the sets that come up and the greatest sum at the first set, or None."""
+        if self.is_surely_too_long(lose) or self.stops.stop_at(()) is None:
+            return None
+        greatest = self.greatest_sum((), self.stops.first_distance(), lose, [])
+        return None if greatest is None else (self.passed, greatest)
+
+
+def root_of_start(structure, base):
+    """Return in millionths the root from above of the start of a paper, by the Enclosure of its base."""
+    n, d = start_of(structure, base)
+    return millionths_above(n, d)
+
 
 def leap(structure, first, second):
     """Return the leap to what is left after one further loss, by a yield paper of each."""
-    grid = Grid(structure)
-    way = Way(grid, structure, [], None)
-    return ratio(way.leap((), Stop(first, [], None), Stop(second, [], None)), MILLION)
+    way = Way(structure, [], Stops(structure, ONE, {}))
+    return ratio(way.leap((), Stop(first, None), Stop(second, None)), MILLION)
 
 
 def walk(structure, losable, lose, blow, papers):
     """Return the sets that come up and the greatest sum at the first set, or None."""
-    grid = Grid(structure)
-    way = Way(grid, structure, losable, Stops(grid, structure, blow, papers))
-    if () not in papers or way.is_surely_too_long(lose):
-        return None
-    base = enclosure_of(grid, structure, papers[()].base, structure.base)
-    n, d = start_of(structure, base)
-    greatest = way.greatest_sum((), millionths_above(n, d), lose, [])
-    return None if greatest is None else (way.passed, greatest)
+    return Way(structure, losable, Stops(structure, blow, papers)).walked(lose)

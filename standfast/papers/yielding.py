@@ -43,14 +43,13 @@ class Answers:
 
 
 class Review:
-    """A YieldPaper of a structure with the Enclosures of all its loads."""
+    """A YieldPaper of a structure with the Enclosures of its base and of its pairs, lists by groups."""
 
-    def __init__(self, grid, structure, paper):
+    def __init__(self, structure, paper, base, groups):
         self.structure = structure
         self.paper = paper
-        self.base = enclosure_of(grid, structure, paper.base, structure.base)
-        self.answers = Answers(grid, structure, paper.pairs)
-        self.groups = [self.answers.of_group(group) for group in range(len(structure.groups))]
+        self.base = base
+        self.groups = groups
 
     def height(self, side):
         """Return what the base and the greatest rises come to at a side: a numerator, and a denominator above 0."""
@@ -61,8 +60,8 @@ class Review:
         """Return True if the forces of the base and of each pair are in balance with their loads."""
         if not self.base.bears(self.structure.base.force):
             return False
-        for group, loads in enumerate(self.structure.groups):
-            if not all([self.answers.is_balanced(group, index) for index in range(len(loads))]):
+        for loads, answers in zip(self.structure.groups, self.groups):
+            if not all([answer.bears(load.force) for load, answer in zip(loads, answers)]):
                 return False
         return True
 
@@ -82,6 +81,13 @@ class Review:
         low, low_by = self.structure.factors[side.component][0]
         further = (millionths_above(n * low_by, d * low), MILLION)
         return at_most(further, minus(side.sure, self.height(side)))
+
+
+def review_of(grid, structure, paper):
+    """Return the Review of a YieldPaper."""
+    base = enclosure_of(grid, structure, paper.base, structure.base)
+    answers = Answers(grid, structure, paper.pairs)
+    return Review(structure, paper, base, [answers.of_group(group) for group in range(len(structure.groups))])
 
 
 def rises_of(groups, component, way):
@@ -118,7 +124,7 @@ def padded_to(values, many):
 
 def yields_end(structure, paper):
     """Return True if the paper holds."""
-    return Review(Grid(structure), structure, paper).holds()
+    return review_of(Grid(structure), structure, paper).holds()
 
 
 def start(structure, paper):
@@ -148,4 +154,4 @@ def yield_of(structure, paper):
 def is_kept_away(structure, paper, side, amount):
     """Return True if a side that breaks is kept away from with a ratio."""
     n, d = amount
-    return Review(Grid(structure), structure, paper).keeps_away(side, n, d)
+    return review_of(Grid(structure), structure, paper).keeps_away(side, n, d)

@@ -1,0 +1,1 @@
+"""What the program finds: forces, falls, and papers."""

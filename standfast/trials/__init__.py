@@ -1,0 +1,1 @@
+"""Trials: one true frame, step by step."""
