@@ -4,6 +4,7 @@ import random
 
 from standfast.frames.problems import problems
 from standfast.frames.reading import read_frame
+from standfast.frames.writing import write_frame
 from standfast.papers.yielding import YieldPaper
 from standfast.ratios import ratio
 from standfast.structure.build import build
@@ -122,3 +123,18 @@ def some_frames(seed, many):
     """Frames by chance: loose ones at times, and trusses."""
     chance = random.Random(seed)
     return [chance.choice((some_frame, some_truss, some_truss))(chance) for _ in range(many)]
+
+
+def some_lists(chance, frame):
+    """Lists that fit a frame, by chance."""
+    names = [member.name for member in frame.members] + ["nobody"]
+    sections = [section.name for section in frame.sections]
+    return [(chance.sample(names, chance.randint(0, len(names))), chance.choices(sections, k=chance.randint(1, 3)))
+            for _ in range(chance.randint(0, 3))]
+
+
+def without_gravity(frame):
+    """A frame without its gravity, and with sections that weigh something."""
+    text = "".join(line for line in write_frame(frame).splitlines(True) if not line.startswith("gravity"))
+    return read_frame(text + "section u stiff 50 60 pull 4 push 3 weight 1/3\nsection v stiff 300 350 pull 30 push 25 "
+                      "factor 9/10 1 weight 2\n")

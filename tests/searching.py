@@ -3,9 +3,14 @@
 from fractions import Fraction
 from itertools import product
 
-from reference import Model, above, at, frac, loss_sets, pair
+import standfast.finding.verdict as verdict_module
+import standfast.papers.judge as judge_module
+from reference import Model, above, below, frac, loss_sets, pair
 from reference import walk as reference_walk
 from standfast.elastic.pairs import pair_of
+from standfast.frames.reading import read_frame
+from standfast.frames.writing import write_frame
+from standfast.papers.ground import Site
 from standfast.papers.movements import unit_load
 from standfast.papers.yielding import YieldPaper
 from standfast.programs.nearest import greatest, nearest
@@ -245,3 +250,161 @@ def found_borne(site):
         if None in found[-1]:
             return None
     return tuple(found)
+
+
+# Points [90] to [98]: lists are pairs of names of members and names of sections.
+
+
+def list_of(lists, name):
+    return next((at for at, (members, _) in enumerate(lists) if name in members), None)
+
+
+def section_named(frame, name):
+    return next(section for section in frame.sections if section.name == name)
+
+
+def with_choice(frame, lists, choice):
+    """The written form of the frame with a choice."""
+    lines = []
+    for line in write_frame(frame).splitlines():
+        words = line.split()
+        if words[0] == "member" and list_of(lists, words[1]) is not None:
+            at = list_of(lists, words[1])
+            words[4] = lists[at][1][choice[at]]
+        lines.append(" ".join(words) + "\n")
+    return "".join(lines)
+
+
+def square_of(frame, member):
+    places = [next(joint.place for joint in frame.joints if joint.name == name) for name in (member.first, member.second)]
+    return sum((frac(q) - frac(p)) ** 2 for p, q in zip(*places))
+
+
+def weight_of(frame):
+    return sum(frac(section_named(frame, m.section).weight) * above(square_of(frame, m)) for m in frame.members)
+
+
+def least_weight(frame, lists, box):
+    return min(weight_of(read_frame(with_choice(frame, lists, choice))) for choice in product(*box))
+
+
+def costs(frame, member, section):
+    """What pull and push cost for each length along them."""
+    low = below(square_of(frame, member))
+    return [frac(section.factor[1]) * frac(strength) / low for strength in (section.pull, section.push)]
+
+
+def fall_holds(frame, lists, box, lost, choice, movement):
+    site = Site(read_frame(with_choice(frame, lists, [places[0] for places in box])))
+    if lost not in loss_sets(site.losable, site.lose):
+        return False
+    bare = site.bare(lost)
+    if list(choice) not in all_choices(bare):
+        return False
+    model = Model(bare)
+    moved = [sum(frac(a) for place, a in movement if place == p) for p in range(model.free)]
+    strains = model.strains(moved)
+
+    def cost(k, name):
+        pull, push = costs(frame, frame.members[k], section_named(frame, name))
+        return strains[k] * pull if strains[k] > 0 else -strains[k] * push
+
+    spent = sum(cost(k, frame.members[k].section) for k in model.here if list_of(lists, frame.members[k].name) is None)
+    for at, (_, names) in enumerate(lists):
+        mine = [k for k in model.here if list_of(lists, frame.members[k].name) == at]
+        spent += max(sum(cost(k, names[place]) for k in mine) for place in box[at])
+    return sum(x * u for x, u in zip(pulls(bare, choice), moved)) > spent
+
+
+def found_box_fall(frame, lists, box):
+    site = Site(frame)
+    for lost in loss_sets(site.losable, site.lose):
+        model = Model(site.bare(lost))
+        for choice in all_choices(model.structure):
+            movement = box_movement(frame, lists, box, model, pulls(model.structure, choice))
+            if movement is not None:
+                return (lost, tuple(choice), movement)
+    return None
+
+
+def box_movement(frame, lists, box, model, force):
+    free, here = model.free, model.here
+    many = free + 2 * len(here) + len(lists)
+    conditions = [at_least(unit(many, column), 0) for column in range(free, free + 2 * len(here))]
+    work = [Fraction(x) for x in force] + [Fraction(0)] * (many - free)
+    for i, k in enumerate(here):
+        numbers = [-x for x in model.rows[k]] + [Fraction(0)] * (many - free)
+        numbers[free + 2 * i], numbers[free + 2 * i + 1] = Fraction(1), Fraction(-1)
+        conditions.append(exactly(numbers, 0))
+        member = frame.members[k]
+        if list_of(lists, member.name) is None:
+            pull, push = costs(frame, member, section_named(frame, member.section))
+            work[free + 2 * i], work[free + 2 * i + 1] = -pull, -push
+    for at, (_, names) in enumerate(lists):
+        bound = free + 2 * len(here) + at
+        work[bound] = Fraction(-1)
+        for place in box[at]:
+            numbers = unit(many, bound)
+            for i, k in enumerate(here):
+                if list_of(lists, frame.members[k].name) == at:
+                    pull, push = costs(frame, frame.members[k], section_named(frame, names[place]))
+                    numbers[free + 2 * i], numbers[free + 2 * i + 1] = -pull, -push
+            conditions.append(at_least(numbers, 0))
+    values = nearest(conditions + [at_least(work, 1)], many)
+    if values is None:
+        return None
+    return [(place, value) for place, value in enumerate(values[:free]) if value != (0, 1)]
+
+
+def standing_paper(frame):
+    """The paper of a frame that stands, or None."""
+    site = Site(frame)
+    paper = verdict_module.found_bounds(site)
+    if paper is None or not judge_module.accepts(site, paper):
+        paper = verdict_module.found_borne(site)
+    return paper if paper is not None and judge_module.accepts(site, paper) else None
+
+
+def search(frame, lists, boxes):
+    """Choice, weight, least, paper and tree of [97]."""
+    state = {"left": boxes, "best": (None, None, None)}
+
+    def examine(box):
+        if state["left"] == 0:
+            return ("open",)
+        state["left"] -= 1
+        fall = found_box_fall(frame, lists, box)
+        if fall is not None:
+            return ("fall", *fall)
+        if state["best"][0] is not None and least_weight(frame, lists, box) >= state["best"][1]:
+            return ("heavy",)
+        sizes = [len(places) for places in box]
+        if all(size == 1 for size in sizes):
+            choice = [places[0] for places in box]
+            chosen = read_frame(with_choice(frame, lists, choice))
+            paper = standing_paper(chosen)
+            if paper is None:
+                return ("open",)
+            state["best"] = (choice, weight_of(chosen), paper)
+            return ("heavy",)
+        at = sizes.index(max(sizes))
+        first = box[at][:sizes[at] // 2]
+        parts = [box[:at] + [places] + box[at + 1:] for places in (first, box[at][sizes[at] // 2:])]
+        return ("split", at, first, examine(parts[0]), examine(parts[1]))
+
+    box = [tuple(range(len(names))) for _, names in lists]
+    tree = examine(box)
+    choice, weight, paper = state["best"]
+    weights = open_weights(frame, lists, box, tree) + ([] if weight is None else [weight])
+    return choice, weight, min(weights, default=None), paper, tree
+
+
+def open_weights(frame, lists, box, tree):
+    if tree[0] == "open":
+        return [least_weight(frame, lists, box)]
+    if tree[0] != "split":
+        return []
+    _, at, places, first, second = tree
+    others = tuple(place for place in box[at] if place not in places)
+    return (open_weights(frame, lists, box[:at] + [places] + box[at + 1:], first)
+            + open_weights(frame, lists, box[:at] + [others] + box[at + 1:], second))

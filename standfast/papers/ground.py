@@ -33,3 +33,10 @@ def choices(structure):
     for loads in structure.groups:
         found = [[*choice, index] for choice in found for index in range(len(loads))]
     return found
+
+
+def is_set(site, lost):
+    """Return True if a tuple is one of the sets of a site."""
+    if len(lost) > site.lose or not all([member in site.losable for member in lost]):
+        return False
+    return all([first < second for first, second in zip(lost, lost[1:])])

@@ -2,7 +2,7 @@
 
 from standfast.elastic.enclosing import enclosure_of
 from standfast.papers.falls import choice_load, falls
-from standfast.papers.ground import choices
+from standfast.papers.ground import choices, is_set
 from standfast.papers.movements import Unit, unit_load
 from standfast.papers.turns import turns
 from standfast.papers.walk import Stops, Way
@@ -117,13 +117,6 @@ def bears_one(structure, choice, forces):
     if not is_balanced(structure, given, choice_load(structure, choice)):
         return False
     return all([at_most(with_sign(side.sign, given[side.component]), side.sure) for side in structure.sides])
-
-
-def is_set(site, lost):
-    """Return True if a tuple is one of the sets of a site."""
-    if len(lost) > site.lose or not all([member in site.losable for member in lost]):
-        return False
-    return all([first < second for first, second in zip(lost, lost[1:])])
 
 
 def accepts_turns(site, paper):

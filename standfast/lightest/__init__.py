@@ -1,0 +1,1 @@
+"""The lightest choice of sections, and trees that show that nothing lighter stands."""

@@ -1,0 +1,1 @@
+"""What measurements tell of the true factors."""
