@@ -7,7 +7,7 @@ from standfast.lightest.lists import fit, weight_of, whole_box, with_choice
 from standfast.lightest.trees import is_right, least_of, read_tree
 from standfast.papers.codes import read_paper
 from standfast.papers.ground import Site
-from standfast.papers.judge import accepts, verdict_of
+from standfast.papers.judge import Hearing, accepts
 
 
 def judge(frame_text, paper_text):
@@ -15,11 +15,12 @@ def judge(frame_text, paper_text):
     frame = sound_frame(frame_text)
     paper = read_paper(paper_text)
     site = Site(frame)
-    if not accepts(site, paper):
-        return None
     if paper.kind != "bounds":
-        return (paper.kind, None, [])
-    total, bounds = verdict_of(site, paper)
+        return (paper.kind, None, []) if accepts(site, paper) else None
+    hearing = Hearing(site, paper)
+    if not hearing.is_accepted():
+        return None
+    total, bounds = hearing.verdict()
     return (paper.kind, total, [(asked.name, least, most) for asked, (least, most) in zip(frame.asked, bounds)])
 
 

@@ -4,7 +4,7 @@ from standfast.elastic.enclosing import enclosure_of
 from standfast.elastic.pairs import middle_elastic
 from standfast.finding.limits import Bearer
 from standfast.finding.moving import amounts_and_movement
-from standfast.papers.yielding import Review, YieldPaper, added_to, rises_of
+from standfast.papers.yielding import Review, Rises, YieldPaper, added
 from standfast.programs.nearest import greatest
 from standfast.ratios import HALF, ONE, ZERO, at_most, less, minus, plus, ratio, times
 from standfast.structure.grid import Grid
@@ -54,8 +54,8 @@ def found_review(elastics):
     if elastics.base is None or not elastics.is_complete():
         return None
     structure = elastics.structure
-    enclosures = elastics.enclosures()
-    spares = [spare_at(enclosures, side) for side in structure.sides]
+    rises = Rises(elastics.enclosures())
+    spares = [spare_at(rises, side) for side in structure.sides]
     bearer = Bearer(structure, elastics.elastic.statics)
     margin = found_margin(bearer, spares)
     if margin is None:
@@ -66,12 +66,12 @@ def found_review(elastics):
     _, movements = elastics.base.pair()
     paper = YieldPaper((forces, movements), elastics.pairs(), margin)
     base = enclosure_of(elastics.elastic.grid, structure, paper.base, structure.base)
-    return Review(structure, paper, base, enclosures)
+    return Review(structure, paper, base, rises)
 
 
-def spare_at(enclosures, side):
+def spare_at(rises, side):
     """Return what the greatest rises leave of what a side bears for sure."""
-    n, d = added_to(rises_of(enclosures, side.component, side.sign), 0, 1)
+    n, d = rises.greatest(side)
     return minus(side.sure, ratio(n, d))
 
 
@@ -122,5 +122,5 @@ def hardest_loads(enclosures, side):
                 found = index
         choice.append(found)
         rises.append(against[found])
-    n, d = added_to(rises, 0, 1)
+    n, d = added(rises)
     return tuple(choice), ratio(n, d)

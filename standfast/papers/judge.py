@@ -22,10 +22,15 @@ class Hearing:
         papers = {item.lost: item.paper for item in paper.sets}
         self.stops = Stops(site.structure, site.blow, papers)
         self.units = {}
+        self.has_walked = False
+        self.walk_found = None
 
     def walked(self):
         """Return the sets that come up and the total, or None."""
-        return Way(self.site.structure, self.site.losable, self.stops).walked(self.site.lose)
+        if not self.has_walked:
+            self.has_walked = True
+            self.walk_found = Way(self.site.structure, self.site.losable, self.stops).walked(self.site.lose)
+        return self.walk_found
 
     def units_at(self, lost):
         """Return the Units of the asked movements for a set, one for each unit pair."""
@@ -50,7 +55,10 @@ class Hearing:
         if walked is None:
             return False
         sets, _ = walked
-        return all([self.holds_at(lost) for lost in once_each(sets)])
+        for lost in once_each(sets):
+            if not self.holds_at(lost):
+                return False
+        return True
 
     def verdict(self):
         """Return the total and the bounds of each asked movement, if the paper is accepted."""

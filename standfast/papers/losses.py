@@ -21,17 +21,17 @@ def left_bare(structure, lost):
 
 def without(structure, lost, groups):
     """Return the structure without the components of the lost members, with more groups of loads."""
-    return Structure(
-        structure.free,
-        structure.rows,
-        structure.factors,
-        [side for side in structure.sides if side.component not in lost],
-        structure.base,
-        [*structure.groups, *groups],
-        structure.scale,
-        structure.errors,
-        [is_there and at not in lost for at, is_there in enumerate(structure.there)],
-    )
+    found = Structure((), (), (), (), structure.base, (), (), (), ())
+    # Most of it is what it was, and needs no copies.
+    found.free = structure.free
+    found.rows = structure.rows
+    found.factors = structure.factors
+    found.sides = tuple([side for side in structure.sides if side.component not in lost])
+    found.groups = structure.groups + tuple([tuple(loads) for loads in groups])
+    found.scale = structure.scale
+    found.errors = structure.errors
+    found.there = tuple([is_there and at not in lost for at, is_there in enumerate(structure.there)])
+    return found
 
 
 def blow_loads(bare, component, strike, idle):

@@ -65,7 +65,7 @@ class Unit:
         slip, wrong = self.slip_and_wrong()
         extra = plus(wrong, times(slip, amount))
         most, least = [plus(extra, shift) for shift in self.shifts(self.structure.base, review.base)]
-        for loads, answers in zip(self.structure.groups, review.groups):
+        for loads, answers in zip(self.structure.groups, review.rises.groups):
             both = [self.shifts(load, answer) for load, answer in zip(loads, answers)]
             most = plus(most, greatest_of([first for first, _ in both]))
             least = plus(least, greatest_of([second for _, second in both]))

@@ -2,7 +2,7 @@
 
 from standfast.elastic.enclosing import reach
 from standfast.papers.falls import is_agreed, is_choice, is_side, work
-from standfast.papers.yielding import Answers, added_to
+from standfast.papers.yielding import Answers, added
 from standfast.ratios import ZERO, less, minus, plus, ratio, times, total
 from standfast.roots import root_above
 from standfast.structure.grid import Grid
@@ -38,7 +38,7 @@ def turns(structure, yields, movement, pairs):
 def lack(answers, side, choice):
     """Return the lack of a yield of a side under a choice."""
     rises = [answers.answer(group, index).rise_of(side.component, -side.sign) for group, index in enumerate(choice)]
-    n, d = added_to(rises, 0, 1)
+    n, d = added(rises)
     return plus(side.most, ratio(n, d))
 
 

@@ -42,25 +42,42 @@ class Answers:
         return [self.answer(group, index) for index in range(len(self.structure.groups[group]))]
 
 
-class Review:
-    """A YieldPaper of a structure with the Enclosures of its base and of its pairs, lists by groups."""
+class Rises:
+    """Enclosures of loads by groups, and what their greatest rises come to at sides, as far as it is known."""
 
-    def __init__(self, structure, paper, base, groups):
+    def __init__(self, groups):
+        self.groups = groups
+        self.known = {}
+
+    def greatest(self, side):
+        """Return the sum of the greatest rise of each group at a side: a numerator, and a denominator above 0."""
+        at, way = side.component, side.sign
+        if (at, way) not in self.known:
+            self.known[(at, way)] = added([greatest_of([answer.rise_of(at, way) for answer in answers])
+                                           for answers in self.groups])
+        return self.known[(at, way)]
+
+
+class Review:
+    """A YieldPaper of a structure with the Enclosure of its base, and the Rises of its pairs."""
+
+    def __init__(self, structure, paper, base, rises):
         self.structure = structure
         self.paper = paper
         self.base = base
-        self.groups = groups
+        self.rises = rises
 
     def height(self, side):
         """Return what the base and the greatest rises come to at a side: a numerator, and a denominator above 0."""
-        rises = rises_of(self.groups, side.component, side.sign)
-        return added_to(rises, side.sign * self.base.forces[side.component], self.base.forces_by)
+        n, d = self.rises.greatest(side)
+        by = self.base.forces_by
+        return n * by + side.sign * self.base.forces[side.component] * d, d * by
 
     def is_balanced(self):
         """Return True if the forces of the base and of each pair are in balance with their loads."""
         if not self.base.bears(self.structure.base.force):
             return False
-        for loads, answers in zip(self.structure.groups, self.groups):
+        for loads, answers in zip(self.structure.groups, self.rises.groups):
             if not all([answer.bears(load.force) for load, answer in zip(loads, answers)]):
                 return False
         return True
@@ -87,16 +104,12 @@ def review_of(grid, structure, paper):
     """Return the Review of a YieldPaper."""
     base = enclosure_of(grid, structure, paper.base, structure.base)
     answers = Answers(grid, structure, paper.pairs)
-    return Review(structure, paper, base, [answers.of_group(group) for group in range(len(structure.groups))])
+    return Review(structure, paper, base, Rises([answers.of_group(group) for group in range(len(structure.groups))]))
 
 
-def rises_of(groups, component, way):
-    """Return the greatest rise of each group of Enclosures at a component with a sign."""
-    return [greatest_of([answer.rise_of(component, way) for answer in group]) for group in groups]
-
-
-def added_to(items, n, d):
-    """Return the sum of n / d and other numbers, not in lowest terms."""
+def added(items):
+    """Return the sum of numbers, not in lowest terms."""
+    n, d = 0, 1
     for a, b in items:
         n, d = n * b + a * d, d * b
     return n, d
