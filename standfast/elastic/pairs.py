@@ -2,6 +2,7 @@
 
 from standfast.elastic.answers import Elastic, middle_factors
 from standfast.linear.equations import loose_values
+from standfast.programs.unknowns import row_numbers
 from standfast.ratios import HALF, ONE, ZERO, over, plus, times
 from standfast.structure.grid import Grid, idle_places
 from standfast.structure.rows import add_rows, row_at, times_row
@@ -38,15 +39,10 @@ def middle_factor(structure, component):
 def stiffness_equation(structure, idle, place):
     """Return the equation for no load of the balance at a free movement, or that it is 0 if it is idle."""
     if place in idle:
-        return (numbers_of(structure, ((place, ONE),)), ZERO)
+        return (row_numbers(len(structure.free), ((place, ONE),)), ZERO)
     rows = []
     for at, row in enumerate(structure.rows):
         mine = row_at(row, place)
         if structure.there[at] and mine != ZERO:
             rows.append(times_row(row, over(mine, middle_factor(structure, at))))
-    return (numbers_of(structure, add_rows(rows)), ZERO)
-
-
-def numbers_of(structure, row):
-    """Return a row as a tuple with a ratio for each free movement."""
-    return tuple([row_at(row, place) for place in range(len(structure.free))])
+    return (row_numbers(len(structure.free), add_rows(rows)), ZERO)

@@ -2,6 +2,7 @@
 
 from standfast.programs.conditions import least
 from standfast.programs.nearest import nearest
+from standfast.programs.unknowns import not_below_zero, numbers_at
 from standfast.ratios import ONE, ZERO, negative
 from standfast.structure.grid import here
 
@@ -15,9 +16,9 @@ def amounts_and_movement(structure, force, prices):
     sides = [at for at, price in enumerate(prices) if price is not None]
     places = len(structure.free)
     conditions = agreeing(structure, sides) + [least(work_numbers(places, force, sides, prices), ONE)]
-    for column in range(len(sides)):
-        conditions.append(least(numbers_at(places + len(sides), {places + column: ONE}), ZERO))
-    values = nearest(conditions, places + len(sides))
+    many = places + len(sides)
+    conditions.extend([not_below_zero(many, column) for column in range(places, many)])
+    values = nearest(conditions, many)
     if values is None:
         return None
     movement = [(place, value) for place, value in enumerate(values[:places]) if value != ZERO]
@@ -44,8 +45,3 @@ def work_numbers(places, force, sides, prices):
     for column, at in enumerate(sides):
         numbers[places + column] = negative(prices[at])
     return numbers_at(places + len(sides), numbers)
-
-
-def numbers_at(many, numbers):
-    """Return as many numbers as told, with those of a dict at their places and 0 elsewhere."""
-    return tuple([numbers.get(place, ZERO) for place in range(many)])

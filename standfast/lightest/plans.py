@@ -3,7 +3,8 @@
 from standfast.lightest.strengths import borne_by
 from standfast.programs.nearest import nearest
 from standfast.programs.projection import can_be_met
-from standfast.ratios import ONE, ZERO, at_most, negative, ratio
+from standfast.programs.unknowns import not_below_zero, numbers_at
+from standfast.ratios import ONE, ZERO, at_most, negative, ratio, with_sign
 
 
 class Kind:
@@ -59,23 +60,31 @@ class Plan:
         sections in the mixture.
         """
         first = len(self.statics.loose)
-        unknowns = first + sum([kind.many for kind in self.kinds])
+        many = first + sum([kind.many for kind in self.kinds])
         conditions = []
         for kind in self.kinds:
             parts = {first + place: ONE for place in range(kind.many)}
-            conditions.append((numbers_at(unknowns, parts), ONE, True))
-            for column in parts:
-                conditions.append((numbers_at(unknowns, {column: (-1, 1)}), ZERO, False))
+            conditions.append((numbers_at(many, parts), ONE, True))
+            conditions.extend([not_below_zero(many, column) for column in parts])
             for at in kind.borne:
-                force = ratio(forces[at], by)
-                ties = [ratio(tie[at], self.statics.divisor) for tie in self.statics.ties]
-                for side, way in ((0, 1), (1, -1)):
-                    numbers = {column: (way * n, d) for column, (n, d) in enumerate(ties)}
-                    for place, pair in enumerate(kind.borne[at]):
-                        numbers[first + place] = negative(pair[side])
-                    conditions.append((numbers_at(unknowns, numbers), (-way * force[0], force[1]), False))
+                conditions.extend(self.mixture(kind, at, (first, many), ratio(forces[at], by)))
             first += kind.many
-        return can_be_met(conditions, unknowns)
+        return can_be_met(conditions, many)
+
+    def mixture(self, kind, at, columns, force):
+        """Return the conditions that the force of a component is within what a mixture bears.
+
+        The columns tell the first unknown of the Kind, and how many there are in all.
+        """
+        first, many = columns
+        ties = [ratio(tie[at], self.statics.divisor) for tie in self.statics.ties]
+        found = []
+        for side, way in ((0, 1), (1, -1)):
+            numbers = {column: with_sign(way, tie) for column, tie in enumerate(ties)}
+            for place, pair in enumerate(kind.borne[at]):
+                numbers[first + place] = negative(pair[side])
+            found.append((numbers_at(many, numbers), with_sign(-way, force), False))
+        return found
 
     def movement(self, force):
         """Return the movement of the fall of a row of forces, a list of entries.
@@ -84,30 +93,38 @@ class Plan:
         such values those nearest to nothing are taken.
         """
         places = len(self.bare.free)
-        present = self.statics.present
-        amounts = {at: places + 2 * column for column, at in enumerate(present)}
-        unknowns = places + 2 * len(present) + self.lists
-        bounds = list(range(unknowns - self.lists, unknowns))
-        conditions = []
-        for at in present:
-            numbers = {place: negative(number) for place, number in self.bare.rows[at]}
-            numbers[amounts[at]] = ONE
-            numbers[amounts[at] + 1] = (-1, 1)
-            conditions.append((numbers_at(unknowns, numbers), ZERO, True))
-        for column in range(places, places + 2 * len(present)):
-            conditions.append((numbers_at(unknowns, {column: (-1, 1)}), ZERO, False))
+        amounts = {at: places + 2 * column for column, at in enumerate(self.statics.present)}
+        bounds = places + 2 * len(amounts)
+        many = bounds + self.lists
+        conditions = [self.agreement(at, amounts[at], many) for at in amounts]
+        conditions.extend([not_below_zero(many, column) for column in range(places, bounds)])
         spent = {place: negative(number) for place, number in force}
-        for kind, bound in zip(self.kinds, bounds):
-            spent[bound] = ONE
-            for place in range(kind.many):
-                numbers = prices(kind, place, amounts)
-                numbers[bound] = (-1, 1)
-                conditions.append((numbers_at(unknowns, numbers), ZERO, False))
-        for kind in self.kinds[self.lists:]:
-            spent.update(prices(kind, 0, amounts))
-        conditions.append((numbers_at(unknowns, spent), (-1, 1), False))
-        values = nearest(conditions, unknowns)
+        for bound, kind in enumerate(self.kinds, start=bounds):
+            if bound < many:
+                spent[bound] = ONE
+                conditions.extend(bounding(kind, bound, amounts, many))
+            else:
+                spent.update(prices(kind, 0, amounts))
+        conditions.append((numbers_at(many, spent), negative(ONE), False))
+        values = nearest(conditions, many)
         return [(place, value) for place, value in enumerate(values[:places]) if value != ZERO]
+
+    def agreement(self, at, column, many):
+        """Return the condition that the amounts of a component, by their first column, make up its strain."""
+        numbers = {place: negative(number) for place, number in self.bare.rows[at]}
+        numbers[column] = ONE
+        numbers[column + 1] = negative(ONE)
+        return (numbers_at(many, numbers), ZERO, True)
+
+
+def bounding(kind, bound, amounts, many):
+    """Return the conditions that a bound is at least what the amounts of a Kind come to with each section."""
+    found = []
+    for place in range(kind.many):
+        numbers = prices(kind, place, amounts)
+        numbers[bound] = negative(ONE)
+        found.append((numbers_at(many, numbers), ZERO, False))
+    return found
 
 
 def prices(kind, place, amounts):
@@ -118,8 +135,3 @@ def prices(kind, place, amounts):
         found[amounts[at]] = pull
         found[amounts[at] + 1] = push
     return found
-
-
-def numbers_at(many, numbers):
-    """Return as many numbers as told, with those of a dict at their places and 0 elsewhere."""
-    return tuple([numbers.get(place, ZERO) for place in range(many)])

@@ -43,15 +43,7 @@ class Table:
 
     def exchange(self, at, column):
         """Let the variables of a row and of a column change places."""
-        chosen = self.rows[at]
-        pivot = chosen[column]
-        rows = [exchanged(row, chosen, column, self.divisor) for row in self.rows]
-        rows[at] = [-number for number in chosen]
-        rows[at][column] = self.divisor
-        if pivot < 0:
-            rows = [[-number for number in row] for row in rows]
-        self.rows = rows
-        self.divisor = abs(pivot)
+        self.rows, self.divisor = exchanged_rows(self.rows, at, column, self.divisor)
         self.heads[at], self.columns[column] = self.columns[column], self.heads[at]
 
     def keep_columns(self, kept):
@@ -68,6 +60,18 @@ class Table:
 def label_of(unknown):
     """Return the label of an unknown."""
     return -1 - unknown
+
+
+def exchanged_rows(rows, at, column, divisor):
+    """Return the rows and the divisor after the variables of a row and of a column have changed places."""
+    chosen = rows[at]
+    pivot = chosen[column]
+    found = [exchanged(row, chosen, column, divisor) for row in rows]
+    found[at] = [-number for number in chosen]
+    found[at][column] = divisor
+    if pivot < 0:
+        found = [[-number for number in row] for row in found]
+    return found, abs(pivot)
 
 
 def exchanged(row, chosen, column, divisor):

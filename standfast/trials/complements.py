@@ -1,6 +1,6 @@
 """Pairs of numbers of at least 0 of which one is 0."""
 
-from standfast.programs.table import exchanged
+from standfast.programs.table import exchanged_rows
 
 
 class Complements:
@@ -50,15 +50,7 @@ class Complements:
 
     def exchange(self, at, column):
         """Let the variables of a row and of a column change places."""
-        chosen = self.rows[at]
-        pivot = chosen[column]
-        rows = [exchanged(row, chosen, column, self.divisor) for row in self.rows]
-        rows[at] = [-number for number in chosen]
-        rows[at][column] = self.divisor
-        if pivot < 0:
-            rows = [[-number for number in row] for row in rows]
-        self.rows = rows
-        self.divisor = abs(pivot)
+        self.rows, self.divisor = exchanged_rows(self.rows, at, column, self.divisor)
 
     def change_head(self, at):
         """Note that the other one of a pair is the head of its row now."""

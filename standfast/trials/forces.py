@@ -2,6 +2,7 @@
 
 from standfast.elastic.answers import Elastic
 from standfast.programs.nearest import nearest
+from standfast.programs.unknowns import row_numbers
 from standfast.ratios import ONE, ZERO, at_most, minus, negative, plus, ratio, times, with_sign
 from standfast.structure.grid import Grid, here, idle_places
 from standfast.structure.model import Load
@@ -54,11 +55,11 @@ def next_movements(structure, factors, limits, slack, forces):
     many = len(structure.free)
     conditions = []
     for place in idle_places(structure):
-        conditions.append((numbers_of(((place, ONE),), many), ZERO, True))
+        conditions.append((row_numbers(many, ((place, ONE),)), ZERO, True))
     reached = reached_sides(structure, limits, forces)
     for at in here(structure):
         strain = plus(times(factors[at], forces[at]), slack[at])
-        numbers = numbers_of(structure.rows[at], many)
+        numbers = row_numbers(many, structure.rows[at])
         if (at, 1) not in reached and (at, -1) not in reached:
             conditions.append((numbers, strain, True))
         elif (at, -1) not in reached:
@@ -75,11 +76,3 @@ def reached_sides(structure, limits, forces):
         if limit is not None and at_most(limit, with_sign(side.sign, forces[side.component])):
             found[(side.component, side.sign)] = True
     return found
-
-
-def numbers_of(row, many):
-    """Return a row as a tuple of as many ratios as told."""
-    numbers = [ZERO] * many
-    for place, amount in row:
-        numbers[place] = amount
-    return tuple(numbers)
