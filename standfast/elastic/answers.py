@@ -45,7 +45,7 @@ class Elastic:
         scale = self.factors_by * by
         sums = [a + strain * scale for a, strain in zip(mine, strains)]
         ties = self.statics.ties
-        lacks = [-sum([tie[at] * sums[at] for at in self.statics.present]) for tie in ties]
+        lacks = [-sum([tie[component] * sums[component] for component in self.statics.present]) for tie in ties]
         found = [force * self.inverse_by * strains_by for force in forces]
         for row, tie in zip(self.inverse, ties):
             loose = sum([a * lack for a, lack in zip(row, lacks)])

@@ -56,28 +56,15 @@ class Enclosure:
 
     def bears(self, force):
         """Return True if the forces are in balance with a row of forces."""
-        added = {}
-        for at in self.present:
-            mine = self.forces[at]
-            if mine != 0:
-                for place, number in self.grid.rows[at]:
-                    added[place] = added.get(place, 0) + number * mine
-        level = self.grid.grain * self.forces_by
-        for place, (n, d) in force:
-            if added.pop(place, 0) * d != n * level:
-                return False
-        return not any(list(added.values()))
+        return self.grid.balances(self.present, self.forces, self.forces_by, force)
 
 
 def enclosure_of(grid, structure, pair, load):
     """Return the Enclosure of a load and a pair for it."""
     present = here(structure)
-    forces, by = over_common(pair[0])
-    padded = [0] * len(structure.rows)
-    for at in present:
-        if at < len(forces):
-            padded[at] = forces[at]
-    return Enclosure(grid, present, (padded, by), own_in_whole(grid, present, pair[1], load.strain))
+    forces, movements = pair
+    own = own_in_whole(grid, present, movements, load.strain)
+    return Enclosure(grid, present, grid.whole_forces(present, forces), own)
 
 
 def own_in_whole(grid, present, movements, outside):

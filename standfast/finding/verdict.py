@@ -4,10 +4,9 @@ from standfast.elastic.pairs import middle_elastic
 from standfast.finding.bearing import found_fall, sure_limits
 from standfast.finding.limits import bearer_of
 from standfast.finding.yields import Elastics, found_review, found_turns
-from standfast.papers.falls import choice_load
-from standfast.papers.ground import choices
 from standfast.papers.judge import accepts
 from standfast.papers.kinds import Borne, Bounds, Falls, SetPaper, Turns
+from standfast.papers.loads import choice_pulls
 from standfast.papers.movements import unit_load
 from standfast.papers.walk import Stop, Way, root_of_start
 from standfast.structure.grid import Grid
@@ -71,11 +70,9 @@ def forces_for_all(structure):
     """Return forces that bear each choice of a structure for sure, or None."""
     bearer = bearer_of(structure)
     limits = sure_limits(structure)
-    # Many choices may pull alike.
     known = {}
     found = []
-    for choice in choices(structure):
-        pull = choice_load(structure, choice).force
+    for pull in choice_pulls(structure):
         if pull not in known:
             known[pull] = bearer.nearest_forces(pull, limits)
         if known[pull] is None:

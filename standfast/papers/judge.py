@@ -1,14 +1,14 @@
 """The judge of papers. It adds, multiplies, divides, rounds roots, and compares; it does not search."""
 
 from standfast.elastic.enclosing import enclosure_of
-from standfast.papers.falls import choice_load, falls
-from standfast.papers.ground import choices, is_set
+from standfast.papers.falls import falls
+from standfast.papers.ground import is_set
+from standfast.papers.loads import choice_pulls
 from standfast.papers.movements import Unit, unit_load
 from standfast.papers.turns import turns
 from standfast.papers.walk import Stops, Way
-from standfast.papers.yielding import filled
-from standfast.ratios import ZERO, at_most, greater_one, less, lesser_one, with_sign
-from standfast.structure.balance import is_balanced
+from standfast.ratios import ZERO, at_most, greater_one, less, lesser_one
+from standfast.structure.grid import Grid, here
 
 
 class Hearing:
@@ -106,25 +106,36 @@ def accepts_borne(site, paper):
     sets = site.sets()
     if len(paper.forces) != len(sets):
         return False
-    return all([bears_all(site.behind(lost), several) for lost, several in zip(sets, paper.forces)])
+    grid = Grid(site.structure)
+    for lost, several in zip(sets, paper.forces):
+        if not bears_all(grid, site.behind(lost), several):
+            return False
+    return True
 
 
-def bears_all(structure, several):
+def bears_all(grid, structure, several):
     """Return True if forces are given for each choice of a structure, and they bear it for sure."""
     many = 1
     for loads in structure.groups:
         many *= len(loads)
     if len(several) != many:
         return False
-    return all([bears_one(structure, choice, forces) for choice, forces in zip(choices(structure), several)])
+    known = {}
+    for pull, forces in zip(choice_pulls(structure), several):
+        if (pull, forces) not in known:
+            known[(pull, forces)] = bears_one(grid, structure, pull, forces)
+        if not known[(pull, forces)]:
+            return False
+    return True
 
 
-def bears_one(structure, choice, forces):
-    """Return True if forces bear a choice for sure."""
-    given, _ = filled(structure, (forces, ()))
-    if not is_balanced(structure, given, choice_load(structure, choice)):
+def bears_one(grid, structure, pull, forces):
+    """Return True if forces are in balance with a row of forces, and all sides bear them for sure."""
+    present = here(structure)
+    given, by = grid.whole_forces(present, forces)
+    if not grid.balances(present, given, by, pull):
         return False
-    return all([at_most(with_sign(side.sign, given[side.component]), side.sure) for side in structure.sides])
+    return all([at_most((side.sign * given[side.component], by), side.sure) for side in structure.sides])
 
 
 def accepts_turns(site, paper):

@@ -1,8 +1,8 @@
 """Bounds of asked movements."""
 
 from standfast.elastic.enclosing import enclosure_of
-from standfast.papers.yielding import review_of
-from standfast.ratios import greater_one, greatest_of, negative, over, plus, ratio, times, total
+from standfast.papers.yielding import added, review_of
+from standfast.ratios import greater_one, greatest_of, negative, over, plus, ratio, times, total, with_sign
 from standfast.roots import MILLION, millionths_above
 from standfast.structure.grid import Grid
 from standfast.structure.model import Load
@@ -32,7 +32,10 @@ class Unit:
         return greatest_of(slips), total(wrongs)
 
     def shifts(self, load, other):
-        """Return the shifts of a load, by its Enclosure: by the forces, and by the forces with changed signs."""
+        """Return the shifts of a load, by its Enclosure: by the forces, and by the forces with changed signs.
+
+        They are numerators and denominators above 0, not in lowest terms.
+        """
         unit = self.answer
         grid = unit.grid
         above = below = along = 0
@@ -50,15 +53,15 @@ class Unit:
         for mixed, way in ((above, 1), (below, -1)):
             straight = mixed * other.own_by + way * along * level
             scale = by * level * other.own_by
-            half = ratio(straight * MILLION + root * scale, 2 * MILLION * scale)
-            found.append(plus(half, times((way, 1), outside)))
+            half = (straight * MILLION + root * scale, 2 * MILLION * scale)
+            found.append(added([half, with_sign(way, outside)]))
         return found
 
     def outside(self, load):
         """Return the sum of the forces multiplied by the strains from outside of a load."""
         forces = self.answer.forces
-        added = total([times((forces[at], 1), strain) for at, strain in load.strain])
-        return over(added, (self.answer.forces_by, 1))
+        products = total([times((forces[at], 1), strain) for at, strain in load.strain])
+        return over(products, (self.answer.forces_by, 1))
 
     def bounds(self, review, amount):
         """Return the least and the most of the asked movement, if all that yields is at most an amount."""

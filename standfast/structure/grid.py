@@ -29,6 +29,29 @@ class Grid:
         self.low_shares = [whole // bound for bound in self.lows]
         self.high_shares = [whole // bound for bound in self.highs]
 
+    def whole_forces(self, present, forces):
+        """Return forces as integers and their divisor, with 0 for those that are missing or not present."""
+        given, by = over_common(forces)
+        found = [0] * len(self.rows)
+        for at in present:
+            if at < len(given):
+                found[at] = given[at]
+        return found, by
+
+    def balances(self, present, forces, by, pull):
+        """Return True if forces, integers and their divisor, are in balance with a row of forces."""
+        added = {}
+        for at in present:
+            mine = forces[at]
+            if mine != 0:
+                for place, number in self.rows[at]:
+                    added[place] = added.get(place, 0) + number * mine
+        level = self.grain * by
+        for place, (n, d) in pull:
+            if added.pop(place, 0) * d != n * level:
+                return False
+        return not any(list(added.values()))
+
 
 def here(structure):
     """Return the list of the components that are there."""

@@ -34,7 +34,7 @@ def within(elastic, answer, limited):
     if all([at_most(ZERO, spare) for spare in spares]):
         return tuple(forces)
     # Each side that would be beyond its limit yields by a price; the prices move the forces of the loose components.
-    ties = [[side.sign * tie[side.component] for tie in statics.ties] for side, _ in limited]
+    ties = [[side.sign * own[side.component] for own in statics.ties] for side, _ in limited]
     moves = [[sum([number * a for number, a in zip(row, tie)]) for row in elastic.inverse] for tie in ties]
     amounts, level = over_common(spares)
     rows = []
