@@ -14,7 +14,7 @@ from standfast.programs.nearest import nearest
 from standfast.programs.projection import can_be_met
 from standfast.ratios import ratio
 from standfast.structure.build import build
-from standfast.structure.model import Load
+from standfast.structure.model import Load, Side, Structure
 from standfast.trials.forces import next_forces, next_movements
 from standfast.trials.state import Truth, fits, middle_truth
 from standfast.trials.trial import Trial
@@ -219,10 +219,15 @@ class NextMovements(unittest.TestCase):
         self.check(made, whole(2, 5, 5, 2), whole(-3, 1), whole(2, -2), ((-1, 4),))
 
     def test_both_sides(self):
+        # At least and at most: the strain of the first bar is just its slack.
         made = structure(TWO)
-        self.check(made, whole(0, 0, 5, 5), whole(9, 1), whole(0, 1), ((1, 2),))
-        self.check(made, whole(0, 0, 0, 0), whole(9, 1), whole(0, 0), ((0, 1),))
+        self.check(made, whole(0, 0, 5, 5), whole(9, 1), whole(0, 1), None)
+        self.check(made, whole(0, 0, 5, 5), whole(2, 1), whole(0, 1), ((1, 2),))
+        self.check(made, whole(0, 0, 0, 0), whole(9, 1), whole(0, 0), None)
+        self.check(made, whole(0, 0, 0, 0), whole(9, 9), whole(0, 0), ((9, 4),))
+        self.check(made, whole(0, 5, 5, 5), whole(1, 1), whole(0, 1), ((1, 2),))
         self.check(made, whole(0, 5, 5, 5), whole(9, 1), whole(0, 1), None)
+        self.check(made, whole(5, 0, 5, 5), whole(9, 1), whole(0, 1), ((1, 2),))
 
     def test_idle_movements(self):
         made = left_bare(structure(TWO + "joint c 4 4\nmember o b c r\n"), [2])
@@ -347,6 +352,19 @@ class Ends(unittest.TestCase):
         self.assertIs(trial.step([whole(0, 1)]), True)
         self.assertIs(trial.step([whole(1, 0)]), False)
         self.check_ended(trial, (((7, 4), (7, 4)), ((7, 16),), ZERO, 1, []))
+
+    def test_forces_without_movements_that_fit(self):
+        # The first bar bears nothing at all, so that it is at the limits of both signs, and is too long by 2.
+        made = structure(SECTION + "member m a b r error 0 1/8\nmember n a b r\ngroup g\ncase at b 4 0\ncase at b 8 0")
+        sides = [Side(0, sign, ZERO, ONE, False) for sign in (1, -1)] + list(made.sides[2:])
+        made = Structure(made.free, made.rows, made.factors, sides, made.base, made.groups, made.scale, made.errors,
+                         made.there)
+        truth = Truth(whole(1, 1), whole(0, 0, 2, 2), whole(2, 0))
+        trial = Trial(made, truth)
+        self.assertIs(trial.step([whole(0, 1)]), True)
+        self.assertEqual((trial.forces(), trial.movements()), (whole(0, 2), ((1, 2),)))
+        self.assertIs(trial.step([whole(1, 0)]), False)
+        self.check_ended(trial, (whole(0, 2), ((1, 2),), ZERO, 1, []))
 
     def test_a_loose_structure(self):
         # The second bar goes from c to b at a slant: alone it lets b move in some direction.
@@ -520,8 +538,9 @@ class ByChance(unittest.TestCase):
             seen["reached" if reached else "free"] += 1
             movements = next_movements(made, truth.factors, limits, slack, forces)
             self.assertEqual(movements, self.nearest_movements(model, truth.factors, limits, slack, forces))
-            # The least sum is just where some movements fit.
-            self.assertIsNotNone(movements)
+            # Movements fit, unless sides of both signs have reached their limits.
+            both = [k for k in model.here if len(self.signs(model, k, limits, forces)) == 2]
+            self.assertTrue(both or movements is not None)
             self.assertEqual(plain((made, truth, limits, load)), before)
         self.assertTrue(min(seen.values()) >= 5, seen)
 
@@ -529,13 +548,17 @@ class ByChance(unittest.TestCase):
         conditions = [exactly(unit(model.free, p), 0) for p in range(model.free) if model.idle(p)]
         for k in model.here:
             strain = frac(factors[k]) * frac(forces[k]) + frac(slack[k])
-            signs = {side.sign for side, limit in zip(model.structure.sides, limits)
-                     if side.component == k and limit is not None and side.sign * frac(forces[k]) == frac(limit)}
-            if -1 not in signs:
+            signs = self.signs(model, k, limits, forces)
+            if 1 in signs or not signs:
                 conditions.append(at_least(model.rows[k], strain))
-            if 1 not in signs:
+            if -1 in signs or not signs:
                 conditions.append(at_most(model.rows[k], strain))
         return nearest(conditions, model.free)
+
+    def signs(self, model, k, limits, forces):
+        """The signs of the sides of a component that have reached their limits."""
+        return {side.sign for side, limit in zip(model.structure.sides, limits)
+                if side.component == k and limit is not None and side.sign * frac(forces[k]) == frac(limit)}
 
     def test_trials(self):
         chance = random.Random(89)

@@ -22,7 +22,7 @@ class Bearer:
         """Return what forces leave of a limit at a side."""
         return minus(limit, ratio(side.sign * forces[side.component], by))
 
-    def ties(self, side):
+    def side_ties(self, side):
         """Return by what the loose forces, once the divisor, add to what a side bears, times the divisor."""
         return [(side.sign * tie[side.component], 1) for tie in self.statics.ties]
 
@@ -33,7 +33,7 @@ class Bearer:
         for side, limit in zip(self.structure.sides, limits):
             if limit is not None:
                 spare = self.spare(side, limit, forces, by)
-                found.append((self.ties(side), times(divisor, spare), False))
+                found.append((self.side_ties(side), times(divisor, spare), False))
         return found
 
     def are_within(self, forces, by, limits):

@@ -60,11 +60,12 @@ def next_movements(structure, factors, limits, slack, forces):
     for at in here(structure):
         strain = plus(times(factors[at], forces[at]), slack[at])
         numbers = row_numbers(many, structure.rows[at])
-        if (at, 1) not in reached and (at, -1) not in reached:
+        # Where the sides of both signs have reached their limits, the strain is at least and at most this.
+        if ((at, 1) in reached) == ((at, -1) in reached):
             conditions.append((numbers, strain, True))
-        elif (at, -1) not in reached:
+        elif (at, 1) in reached:
             conditions.append((tuple([negative(number) for number in numbers]), negative(strain), False))
-        elif (at, 1) not in reached:
+        else:
             conditions.append((numbers, strain, False))
     return nearest(conditions, many)
 
