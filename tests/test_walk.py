@@ -222,6 +222,12 @@ class ManyThatMayBeLost(unittest.TestCase):
         # All bases are the same, so that each leap is 0: three sets one behind another, each with 3/2 of the square.
         self.assertEqual(greatest, pair(reference.above(first) ** 2 * 9 / 2))
 
+    def test_just_300_sets_and_more(self):
+        for many, lose, sets in ((17, 2, 290), (18, 2, None), (299, 1, 300), (300, 1, None), (3, 9, 16), (7, 3, 260),
+                                 (7, 4, None)):
+            found, _ = self.found(many, lose)
+            self.assertEqual(None if found is None else len(found[0]), sets)
+
     def test_nothing_is_too_long_by_members_that_are_not_there(self):
         made = bars("ttt")
         papers = {(): paper(1, 1, 1), (2,): paper(1, 1, 5)}
